@@ -1,0 +1,60 @@
+// Package solver: sessions: a stack of what is declared and asserted, and checks of it: see DOC.md.
+package solver
+
+import (
+	"reason/api"
+	"reason/command"
+	"reason/stack"
+)
+
+// Session is a stack.
+type Session struct {
+	stack stack.Stack
+}
+
+// New makes an empty stack (P3).
+func New() *Session { return &Session{} }
+
+// Do carries out a command (P3 to P6, P10).
+func (s *Session) Do(text string, budget int) api.Reply {
+	if budget < 0 || budget > api.MaxBudget {
+		return api.Reply{E: api.ErrArg}
+	}
+	if len(text) > api.MaxText {
+		return api.Reply{E: api.ErrLong}
+	}
+	asked, f := command.Run(&s.stack, text)
+	if f.E != api.OK {
+		return api.Reply{E: f.E, Pos: f.Pos}
+	}
+	if asked {
+		return check(budget)
+	}
+	return api.Reply{}
+}
+
+// check finds nothing out yet: it says what holds of a check that costs more than any budget (P10).
+func check(budget int) api.Reply {
+	return api.Reply{V: api.Unknown, Spent: budget + 1}
+}
+
+// Decide checks a bounded stack (P11). No stack is told to be one yet.
+func (s *Session) Decide() api.Reply { return api.Reply{E: api.ErrArg} }
+
+// Bounded tells whether the stack is bounded (P11). It is not built yet.
+func (s *Session) Bounded() bool { return false }
+
+// Accepts tells whether a text is a proof that not all that is asserted can be true (P9). It is not built yet.
+func (s *Session) Accepts(proof string) bool { return false }
+
+// Holds tells whether all that is asserted is true in a model (P8). It is not built yet.
+func (s *Session) Holds(m []api.Entry) (bool, api.Errno) { return false, api.OK }
+
+// Depth tells how many levels are pushed (P7).
+func (s *Session) Depth() int { return s.stack.Depth() }
+
+// Held tells how many assertions there are (P7).
+func (s *Session) Held() int { return len(s.stack.Held) }
+
+// Print tells the stack as commands (P7).
+func (s *Session) Print() string { return s.stack.Print() }
