@@ -4,6 +4,7 @@ package solver
 import (
 	"reason/api"
 	"reason/command"
+	"reason/model"
 	"reason/stack"
 )
 
@@ -47,8 +48,8 @@ func (s *Session) Bounded() bool { return false }
 // Accepts tells whether a text is a proof that not all that is asserted can be true (P9). It is not built yet.
 func (s *Session) Accepts(proof string) bool { return false }
 
-// Holds tells whether all that is asserted is true in a model (P8). It is not built yet.
-func (s *Session) Holds(m []api.Entry) (bool, api.Errno) { return false, api.OK }
+// Holds tells whether all that is asserted is true in a model (P8).
+func (s *Session) Holds(m []api.Entry) (bool, api.Errno) { return model.Holds(&s.stack, m) }
 
 // Depth tells how many levels are pushed (P7).
 func (s *Session) Depth() int { return s.stack.Depth() }
