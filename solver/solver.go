@@ -5,6 +5,7 @@ import (
 	"reason/api"
 	"reason/command"
 	"reason/model"
+	"reason/proofs"
 	"reason/stack"
 )
 
@@ -45,8 +46,8 @@ func (s *Session) Decide() api.Reply { return api.Reply{E: api.ErrArg} }
 // Bounded tells whether the stack is bounded (P11). It is not built yet.
 func (s *Session) Bounded() bool { return false }
 
-// Accepts tells whether a text is a proof that not all that is asserted can be true (P9). It is not built yet.
-func (s *Session) Accepts(proof string) bool { return false }
+// Accepts tells whether a text is a proof that not all that is asserted can be true (P9).
+func (s *Session) Accepts(proof string) bool { return proofs.Accepts(&s.stack, proof) }
 
 // Holds tells whether all that is asserted is true in a model (P8).
 func (s *Session) Holds(m []api.Entry) (bool, api.Errno) { return model.Holds(&s.stack, m) }

@@ -19,6 +19,14 @@ type Term struct {
 	Sort int
 }
 
+// Arg is the number of an argument, from 0 on; -1 where there is none.
+func (t Term) Arg(i int) int {
+	if i < 0 || i >= len(t.Args) {
+		return -1
+	}
+	return t.Args[i]
+}
+
 // mark tells how much of each there was when a level was pushed.
 type mark struct {
 	symbols int

@@ -82,9 +82,67 @@ func TestArithmetic(t *testing.T) {
 			if got, want := sign(whole.Compare(a, b)), x.Cmp(y); got != want {
 				t.Fatalf("%s and %s: got %d, want %d", x, y, got, want)
 			}
+			checkDivision(t, x, y, a, b)
 			if a.Text() != x.String() || b.Text() != y.String() {
 				t.Fatalf("%s and %s became %s and %s", x, y, a.Text(), b.Text())
 			}
+		}
+	}
+}
+
+// checkDivision compares division and common divisors with those of math/big.
+func checkDivision(t *testing.T, x, y *big.Int, a, b whole.Number) {
+	t.Helper()
+	if got, want := whole.CommonDivisor(a, b).Text(), new(big.Int).GCD(nil, nil, new(big.Int).Abs(x), new(big.Int).Abs(y)).String(); got != want {
+		t.Fatalf("the greatest divisor of %s and %s: got %s, want %s", x, y, got, want)
+	}
+	want := new(big.Int)
+	if y.Sign() > 0 {
+		// Division of math/big is rounded down: of the opposite, and turned round, it is rounded up.
+		want.Neg(new(big.Int).Div(new(big.Int).Neg(x), y))
+	}
+	if got := whole.DivideUp(a, b).Text(); got != want.String() {
+		t.Fatalf("%s by %s: got %s, want %s", x, y, got, want)
+	}
+}
+
+// TestDivision: numbers that share a divisor, and those at which a guess of a limb is too great.
+func TestDivision(t *testing.T) {
+	r := rand.New(rand.NewSource(2))
+	limbs := []int64{0, 1, 2, 499999999, 500000000, 500000001, 999999998, 999999999}
+	pick := func() *big.Int {
+		n := new(big.Int)
+		for i := r.Intn(6); i >= 0; i-- {
+			limb := limbs[r.Intn(len(limbs))]
+			if r.Intn(3) == 0 {
+				limb = r.Int63n(1000000000)
+			}
+			n.Mul(n, big.NewInt(1000000000)).Add(n, big.NewInt(limb))
+		}
+		if r.Intn(2) == 0 {
+			n.Neg(n)
+		}
+		return n
+	}
+	for i := 0; i < 100000; i++ {
+		x, y := pick(), pick()
+		if i%4 == 0 {
+			z := pick()
+			x.Mul(x, z)
+			y.Mul(y, z)
+		}
+		if i%4 == 1 {
+			x.Mul(x, y).Add(x, big.NewInt(int64(r.Intn(3)-1)))
+		}
+		checkDivision(t, x, y, parse(t, x), parse(t, y))
+	}
+}
+
+// TestSign: below 0, 0 and above 0.
+func TestSign(t *testing.T) {
+	for _, x := range samples() {
+		if got, want := sign(whole.Sign(parse(t, x))), x.Sign(); got != want {
+			t.Errorf("%s: got %d, want %d", x, got, want)
 		}
 	}
 }
