@@ -1,5 +1,7 @@
 package proofs
 
+import "reason/atoms"
+
 // clauses has the clauses of the lines so far, as codes of literals, and what follows from them alone by letting, of a clause of which but one literal can still be so, that one be so.
 //
 // A clause waits at two of its literals, its first two, and is looked at again when one of these is no more: as long as neither is, more than one of its literals can be so. A literal that was let be so for the sake of one line is taken back behind it; that leaves the waiting as it is.
@@ -31,7 +33,7 @@ func (k *clauses) let(code int) bool {
 	}
 	k.so[code] = true
 	k.trail = append(k.trail, code)
-	return k.isSo(opposite(code))
+	return k.isSo(atoms.Opposite(code))
 }
 
 // refute tells whether letting all these literals be false comes to a contradiction.
@@ -42,7 +44,7 @@ func (k *clauses) refute(literals []int) bool {
 	before := len(k.trail)
 	contrary := false
 	for _, code := range literals {
-		now := k.let(opposite(code))
+		now := k.let(atoms.Opposite(code))
 		contrary = contrary || now
 	}
 	if !contrary {
@@ -70,7 +72,7 @@ func (k *clauses) takeBack(n int) {
 func (k *clauses) add(literals []int) {
 	var left []int
 	for _, code := range literals {
-		if !k.marked(code) && !k.isSo(opposite(code)) {
+		if !k.marked(code) && !k.isSo(atoms.Opposite(code)) {
 			left = append(left, code)
 		}
 		k.mark(code, true)

@@ -3,17 +3,19 @@ package proofs
 import (
 	"math/rand"
 	"testing"
+
+	"reason/atoms"
 )
 
 // refuteSlowly is what P9 says of a line R, word for word.
 func refuteSlowly(known [][]int, literals []int) bool {
 	so := map[int]bool{}
 	for _, code := range literals {
-		so[opposite(code)] = true
+		so[atoms.Opposite(code)] = true
 	}
 	for {
 		for code := range so {
-			if so[opposite(code)] {
+			if so[atoms.Opposite(code)] {
 				return true
 			}
 		}
@@ -23,7 +25,7 @@ func refuteSlowly(known [][]int, literals []int) bool {
 			isSo := false
 			for _, code := range clause {
 				isSo = isSo || so[code]
-				if !so[opposite(code)] {
+				if !so[atoms.Opposite(code)] {
 					left[code] = true
 				}
 			}

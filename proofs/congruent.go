@@ -1,6 +1,9 @@
 package proofs
 
-import "reason/stack"
+import (
+	"reason/atoms"
+	"reason/stack"
+)
 
 // classes tells of each term the class in which it is congruent to others: the number of one of them.
 type classes struct {
@@ -9,7 +12,7 @@ type classes struct {
 }
 
 // congruent reads a line U.
-func (c *checker) congruent(words []string) ([]literal, bool) {
+func (c *checker) congruent(words []string) ([]atoms.Literal, bool) {
 	list, ok := c.literals(words)
 	if !ok {
 		return nil, false
@@ -19,8 +22,8 @@ func (c *checker) congruent(words []string) ([]literal, bool) {
 		k.of = append(k.of, number)
 	}
 	for _, l := range list {
-		if l.atom.kind == areEqual && l.not {
-			k.merge(l.atom.a, l.atom.b)
+		if l.Atom.Kind == atoms.AreEqual && l.Not {
+			k.merge(l.Atom.A, l.Atom.B)
 		}
 	}
 	for k.mergeAlike() {
@@ -83,23 +86,23 @@ func (k *classes) alike(a int, b int) bool {
 }
 
 // contradict tells whether not all literals can be false: two terms that are to be different are congruent, or one that is to be true and one that is not.
-func (k *classes) contradict(list []literal) bool {
+func (k *classes) contradict(list []atoms.Literal) bool {
 	hasTrue := make([]bool, len(k.of))
 	for _, l := range list {
-		class := k.class(l.atom.a)
-		if l.atom.kind == isTrue && l.not && class >= 0 && class < len(hasTrue) {
+		class := k.class(l.Atom.A)
+		if l.Atom.Kind == atoms.IsTrue && l.Not && class >= 0 && class < len(hasTrue) {
 			hasTrue[class] = true
 		}
 	}
 	for _, l := range list {
-		class := k.class(l.atom.a)
-		if l.not || class < 0 || class >= len(hasTrue) {
+		class := k.class(l.Atom.A)
+		if l.Not || class < 0 || class >= len(hasTrue) {
 			continue
 		}
-		if l.atom.kind == areEqual && class == k.class(l.atom.b) {
+		if l.Atom.Kind == atoms.AreEqual && class == k.class(l.Atom.B) {
 			return true
 		}
-		if l.atom.kind == isTrue && hasTrue[class] {
+		if l.Atom.Kind == atoms.IsTrue && hasTrue[class] {
 			return true
 		}
 	}

@@ -2,11 +2,12 @@ package proofs
 
 import (
 	"reason/api"
+	"reason/atoms"
 	"reason/stack"
 )
 
 // defined reads a line D.
-func (c *checker) defined(words []string) ([]literal, bool) {
+func (c *checker) defined(words []string) ([]atoms.Literal, bool) {
 	number, ok := c.number(wordAt(words, 0))
 	list, okToo := c.literals(wordsFrom(words, 1))
 	if !ok || !okToo {
@@ -28,7 +29,7 @@ func (c *checker) defined(words []string) ([]literal, bool) {
 }
 
 // ordered reads a line Q.
-func (c *checker) ordered(words []string) ([]literal, bool) {
+func (c *checker) ordered(words []string) ([]atoms.Literal, bool) {
 	a, ok := c.number(wordAt(words, 0))
 	b, okToo := c.number(wordAt(words, 1))
 	list, okAll := c.literals(wordsFrom(words, 2))
@@ -38,11 +39,11 @@ func (c *checker) ordered(words []string) ([]literal, bool) {
 	if a >= b || c.sortOf(a) != api.Int || c.sortOf(b) != api.Int {
 		return nil, false
 	}
-	v := view{st: c.st, atoms: []atom{equality(a, b), atMost(a, b), atMost(b, a)}}
+	v := view{st: c.st, seen: []atoms.Atom{atoms.Equality(a, b), atoms.AtMost(a, b), atoms.AtMost(b, a)}}
 	v.say(list)
 	for ; v.way < v.ways(); v.way++ {
-		both := v.so(atMost(a, b)) && v.so(atMost(b, a))
-		if v.so(equality(a, b)) == both && !v.told() {
+		both := v.so(atoms.AtMost(a, b)) && v.so(atoms.AtMost(b, a))
+		if v.so(atoms.Equality(a, b)) == both && !v.told() {
 			return nil, false
 		}
 	}
@@ -52,14 +53,14 @@ func (c *checker) ordered(words []string) ([]literal, bool) {
 // lookAround takes in the atoms that a term hangs together with by its operator.
 func (v *view) lookAround(number int, t stack.Term) {
 	if t.Sort == api.Bool {
-		v.look(truth(number))
+		v.look(atoms.Truth(number))
 	} else {
 		v.lookEqual(number, t.Arg(1))
 		v.lookEqual(number, t.Arg(2))
 	}
 	for i, a := range t.Args {
 		if v.isBool(a) {
-			v.look(truth(a))
+			v.look(atoms.Truth(a))
 		} else if t.Op == stack.Equal || t.Op == stack.Distinct {
 			for j := 0; j < i; j++ {
 				v.lookEqual(t.Args[j], a)
@@ -67,10 +68,10 @@ func (v *view) lookAround(number int, t stack.Term) {
 		}
 	}
 	if t.Op == stack.AtMost {
-		v.look(atMost(t.Arg(0), t.Arg(1)))
+		v.look(atoms.AtMost(t.Arg(0), t.Arg(1)))
 	}
 	if t.Op == stack.Below {
-		v.look(atMost(t.Arg(1), t.Arg(0)))
+		v.look(atoms.AtMost(t.Arg(1), t.Arg(0)))
 	}
 }
 
@@ -82,7 +83,7 @@ func (v *view) agrees(number int, t stack.Term) bool {
 	if t.Sort != api.Bool {
 		return v.equal(number, v.chosen(t))
 	}
-	return v.so(truth(number)) == v.made(t)
+	return v.so(atoms.Truth(number)) == v.made(t)
 }
 
 // made tells whether an operator makes a true Bool.
@@ -105,11 +106,11 @@ func (v *view) made(t stack.Term) bool {
 	case stack.Distinct:
 		return v.noneSame(t)
 	case stack.AtMost:
-		return v.so(atMost(t.Arg(0), t.Arg(1)))
+		return v.so(atoms.AtMost(t.Arg(0), t.Arg(1)))
 	case stack.Below:
-		return !v.so(atMost(t.Arg(1), t.Arg(0)))
+		return !v.so(atoms.AtMost(t.Arg(1), t.Arg(0)))
 	case stack.Ite:
-		return v.so(truth(v.chosen(t)))
+		return v.so(atoms.Truth(v.chosen(t)))
 	}
 	return false
 }

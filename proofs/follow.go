@@ -1,9 +1,11 @@
 package proofs
 
+import "reason/atoms"
+
 // follow lets be so what follows from the literals that are so, and tells whether it comes to a clause with only literals that are not so.
 func (k *clauses) follow() bool {
 	for k.done < len(k.trail) {
-		code := opposite(k.trail[k.done])
+		code := atoms.Opposite(k.trail[k.done])
 		k.done++
 		if k.leave(code) {
 			return true
@@ -47,7 +49,7 @@ func (k *clauses) moveOn(place int, code int) bool {
 		return false
 	}
 	for i := 2; i < len(clause); i++ {
-		if k.isSo(opposite(clause[i])) {
+		if k.isSo(atoms.Opposite(clause[i])) {
 			continue
 		}
 		swap(clause, 1, i)

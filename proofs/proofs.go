@@ -2,6 +2,7 @@
 package proofs
 
 import (
+	"reason/atoms"
 	"reason/stack"
 	"reason/sums"
 )
@@ -15,7 +16,8 @@ type checker struct {
 
 // Accepts tells whether a text is a proof of a stack.
 func Accepts(st *stack.Stack, text string) bool {
-	c := checker{st: st, terms: sums.OfTerms(st), known: newClauses(codes(len(st.Terms)))}
+	codes := 2 * atoms.Places(len(st.Terms))
+	c := checker{st: st, terms: sums.OfTerms(st), known: newClauses(codes)}
 	closed := false
 	for from := 0; from < len(text); {
 		words, next := wordsOfLine(text, from)
@@ -34,7 +36,7 @@ func Accepts(st *stack.Stack, text string) bool {
 }
 
 // line tells the clause of a line, and whether the line is right.
-func (c *checker) line(words []string) ([]literal, bool) {
+func (c *checker) line(words []string) ([]atoms.Literal, bool) {
 	if len(words) == 0 {
 		return nil, false
 	}
@@ -57,21 +59,21 @@ func (c *checker) line(words []string) ([]literal, bool) {
 }
 
 // asserted reads a line F.
-func (c *checker) asserted(words []string) ([]literal, bool) {
+func (c *checker) asserted(words []string) ([]atoms.Literal, bool) {
 	number, ok := c.number(wordAt(words, 0))
 	if !ok || len(words) != 1 {
 		return nil, false
 	}
 	for _, held := range c.st.Held {
 		if held == number {
-			return []literal{{atom: truth(number)}}, true
+			return []atoms.Literal{{Atom: atoms.Truth(number)}}, true
 		}
 	}
 	return nil, false
 }
 
 // resolved reads a line R.
-func (c *checker) resolved(words []string) ([]literal, bool) {
+func (c *checker) resolved(words []string) ([]atoms.Literal, bool) {
 	list, ok := c.literals(words)
 	if !ok {
 		return nil, false
@@ -80,9 +82,19 @@ func (c *checker) resolved(words []string) ([]literal, bool) {
 }
 
 // judged is a line's clause, if the line is right.
-func judged(list []literal, right bool) ([]literal, bool) {
+func judged(list []atoms.Literal, right bool) ([]atoms.Literal, bool) {
 	if !right {
 		return nil, false
 	}
 	return list, true
+}
+
+// coded tells the codes of literals.
+func (c *checker) coded(list []atoms.Literal) []int {
+	var coded []int
+	for _, l := range list {
+		place := l.Atom.Place(len(c.st.Terms))
+		coded = append(coded, atoms.Code(place, l.Not))
+	}
+	return coded
 }

@@ -1,12 +1,13 @@
 package proofs
 
 import (
+	"reason/atoms"
 	"reason/sums"
 	"reason/whole"
 )
 
 // summed reads a line A.
-func (c *checker) summed(words []string) ([]literal, bool) {
+func (c *checker) summed(words []string) ([]atoms.Literal, bool) {
 	bar := 0
 	for bar < len(words) && words[bar] != "|" {
 		bar++
@@ -23,22 +24,22 @@ func (c *checker) summed(words []string) ([]literal, bool) {
 }
 
 // sumsOf tells the sums that are at most 0, if all the literals are false.
-func (c *checker) sumsOf(list []literal) []sums.Sum {
+func (c *checker) sumsOf(list []atoms.Literal) []sums.Sum {
 	var made []sums.Sum
 	one := sums.Constant(whole.From(1))
 	for _, l := range list {
-		if l.atom.kind == isTrue || l.atom.kind == areEqual && !l.not {
+		if l.Atom.Kind == atoms.IsTrue || l.Atom.Kind == atoms.AreEqual && !l.Not {
 			continue
 		}
-		a := sums.At(c.terms, l.atom.a)
-		b := sums.At(c.terms, l.atom.b)
-		if l.not {
+		a := sums.At(c.terms, l.Atom.A)
+		b := sums.At(c.terms, l.Atom.B)
+		if l.Not {
 			made = append(made, c.minus(a, b))
 		}
-		if l.not && l.atom.kind == areEqual {
+		if l.Not && l.Atom.Kind == atoms.AreEqual {
 			made = append(made, c.minus(b, a))
 		}
-		if !l.not {
+		if !l.Not {
 			// b - a + 1
 			less := c.minus(a, one)
 			made = append(made, c.minus(b, less))

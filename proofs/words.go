@@ -2,6 +2,7 @@ package proofs
 
 import (
 	"reason/api"
+	"reason/atoms"
 	"reason/lists"
 )
 
@@ -52,8 +53,8 @@ func (c *checker) number(word string) (int, bool) {
 func (c *checker) sortOf(number int) int { return c.st.Term(number).Sort }
 
 // literals reads words that are literals, all of them.
-func (c *checker) literals(words []string) ([]literal, bool) {
-	var list []literal
+func (c *checker) literals(words []string) ([]atoms.Literal, bool) {
+	var list []atoms.Literal
 	for _, word := range words {
 		l, ok := c.literal(word)
 		if !ok {
@@ -65,29 +66,29 @@ func (c *checker) literals(words []string) ([]literal, bool) {
 }
 
 // literal reads a literal.
-func (c *checker) literal(word string) (literal, bool) {
+func (c *checker) literal(word string) (atoms.Literal, bool) {
 	if len(word) < 2 || word[0] != '+' && word[0] != '-' {
-		return literal{}, false
+		return atoms.Literal{}, false
 	}
 	a, ok := c.atom(word[1], word[2:])
 	if !ok {
-		return literal{}, false
+		return atoms.Literal{}, false
 	}
-	return literal{atom: a, not: word[0] == '-'}, true
+	return atoms.Literal{Atom: a, Not: word[0] == '-'}, true
 }
 
 // atom reads an atom of a kind, from the text behind its letter.
-func (c *checker) atom(kind byte, text string) (atom, bool) {
+func (c *checker) atom(kind byte, text string) (atoms.Atom, bool) {
 	first, second, pair := aroundComma(text)
 	a, ok := c.number(first)
-	made := atom{kind: kind, a: a}
+	made := atoms.Atom{Kind: kind, A: a}
 	if pair {
 		b, okToo := c.number(second)
 		ok = ok && okToo
-		made.b = b
+		made.B = b
 	}
 	if !ok || !c.fits(made, pair) {
-		return atom{}, false
+		return atoms.Atom{}, false
 	}
 	return made, true
 }
@@ -103,18 +104,18 @@ func aroundComma(text string) (string, string, bool) {
 }
 
 // fits tells whether an atom is one, by the sorts and the order of its term or pair of terms.
-func (c *checker) fits(a atom, pair bool) bool {
-	sort := c.sortOf(a.a)
-	if a.kind == isTrue {
+func (c *checker) fits(a atoms.Atom, pair bool) bool {
+	sort := c.sortOf(a.A)
+	if a.Kind == atoms.IsTrue {
 		return !pair && sort == api.Bool
 	}
-	if !pair || c.sortOf(a.b) != sort {
+	if !pair || c.sortOf(a.B) != sort {
 		return false
 	}
-	switch a.kind {
-	case areEqual:
-		return a.a < a.b && (sort == api.Int || sort == api.U)
-	case isAtMost:
+	switch a.Kind {
+	case atoms.AreEqual:
+		return a.A < a.B && (sort == api.Int || sort == api.U)
+	case atoms.IsAtMost:
 		return sort == api.Int
 	}
 	return false

@@ -3,9 +3,11 @@ package solver
 
 import (
 	"reason/api"
+	"reason/bounds"
 	"reason/command"
 	"reason/model"
 	"reason/proofs"
+	"reason/search"
 	"reason/stack"
 )
 
@@ -30,21 +32,21 @@ func (s *Session) Do(text string, budget int) api.Reply {
 		return api.Reply{E: f.E, Pos: f.Pos}
 	}
 	if asked {
-		return check(budget)
+		return search.Check(&s.stack, budget)
 	}
 	return api.Reply{}
 }
 
-// check finds nothing out yet: it says what holds of a check that costs more than any budget (P10).
-func check(budget int) api.Reply {
-	return api.Reply{V: api.Unknown, Spent: budget + 1}
+// Decide checks a bounded stack, whatever that costs (P11).
+func (s *Session) Decide() api.Reply {
+	if !bounds.Bounded(&s.stack) {
+		return api.Reply{E: api.ErrArg}
+	}
+	return search.Check(&s.stack, -1)
 }
 
-// Decide checks a bounded stack (P11). No stack is told to be one yet.
-func (s *Session) Decide() api.Reply { return api.Reply{E: api.ErrArg} }
-
-// Bounded tells whether the stack is bounded (P11). It is not built yet.
-func (s *Session) Bounded() bool { return false }
+// Bounded tells whether the stack is bounded (P11).
+func (s *Session) Bounded() bool { return bounds.Bounded(&s.stack) }
 
 // Accepts tells whether a text is a proof that not all that is asserted can be true (P9).
 func (s *Session) Accepts(proof string) bool { return proofs.Accepts(&s.stack, proof) }

@@ -1,0 +1,214 @@
+package linear
+
+import (
+	"reason/sums"
+	"reason/whole"
+)
+
+// row tells a number by others: parts times it is a number and each other so many times. Parts is above 0.
+type row struct {
+	parts  whole.Number
+	number whole.Number
+	times  []whole.Number // by place among those by which rows tell
+}
+
+// tableau tells some numbers by others. A number is an unknown, from 0 on, or behind these the rest of a sum: 0 less the sum. A sum is at most 0 just if its rest is not below 0. Those by which the rows tell are 0 for the time being.
+type tableau struct {
+	unknowns int
+	told     []int // by row: the number that it tells
+	by       []int // by place: the number by which rows tell
+	rows     []row
+}
+
+// newTableau tells the rests of sums by the unknowns, which are the terms of the columns.
+func newTableau(columns []int, list []sums.Sum) tableau {
+	t := tableau{unknowns: len(columns)}
+	for i := range columns {
+		t.by = append(t.by, i)
+	}
+	for i, s := range list {
+		r := row{parts: whole.From(1), number: whole.Negate(s.Number)}
+		for _, term := range columns {
+			times := timesOf(s, term)
+			r.times = append(r.times, whole.Negate(times))
+		}
+		t.told = append(t.told, len(columns)+i)
+		t.rows = append(t.rows, r)
+	}
+	return t
+}
+
+// timesOf tells how often a term is in a sum.
+func timesOf(s sums.Sum, term int) whole.Number {
+	for _, p := range s.Parts {
+		if p.Term == term {
+			return p.Times
+		}
+	}
+	return whole.Number{}
+}
+
+// with is a tableau like this one with one sum more: an unknown so many times, which is 1 or -1, and a number. This one stays as it is; a row is never changed, but another put in its place: so both may have the same.
+func (t *tableau) with(unknown int, times whole.Number, number whole.Number) tableau {
+	made := tableau{unknowns: t.unknowns}
+	made.told = append(made.told, t.told...)
+	made.by = append(made.by, t.by...)
+	made.rows = append(made.rows, t.rows...)
+	r := t.rowOf(unknown)
+	rest := row{parts: r.parts, number: mixed(r.number, whole.Negate(times), number, whole.Negate(r.parts))}
+	for _, n := range r.times {
+		rest.times = append(rest.times, whole.Multiply(n, whole.Negate(times)))
+	}
+	made.told = append(made.told, t.unknowns+len(t.rows))
+	made.rows = append(made.rows, rest)
+	return made
+}
+
+// rowOf tells an unknown by those by which the rows tell.
+func (t *tableau) rowOf(unknown int) row {
+	for i, number := range t.told {
+		if number == unknown {
+			return t.rows[i]
+		}
+	}
+	r := row{parts: whole.From(1)}
+	for _, number := range t.by {
+		if number == unknown {
+			r.times = append(r.times, whole.From(1))
+			continue
+		}
+		r.times = append(r.times, whole.Number{})
+	}
+	return r
+}
+
+// settle exchanges numbers until no rest is below 0: then it tells -1. Else it tells a row whose rest is below 0 whatever the others are, as long as no rest is.
+//
+// Of several it takes the first, of rests and of numbers to exchange: so nothing comes again, and this comes to an end (Bland's rule).
+func (t *tableau) settle() int {
+	for {
+		r := t.below()
+		if r < 0 {
+			return -1
+		}
+		place := t.mover(r)
+		if place < 0 {
+			return r
+		}
+		t.exchange(r, place)
+	}
+}
+
+// below is the row of the first rest that is below 0; -1, if there is none.
+func (t *tableau) below() int {
+	best := -1
+	for i := range t.rows {
+		if t.told[i] < t.unknowns || whole.Sign(t.rows[i].number) >= 0 {
+			continue
+		}
+		if best < 0 || t.told[i] < t.told[best] {
+			best = i
+		}
+	}
+	return best
+}
+
+// mover is the place of the first number by which a row can be made greater; -1, if there is none. A rest can only grow.
+func (t *tableau) mover(r int) int {
+	best := -1
+	for place, times := range t.rows[r].times {
+		sign := whole.Sign(times)
+		if sign == 0 || sign < 0 && t.by[place] >= t.unknowns {
+			continue
+		}
+		if best < 0 || t.by[place] < t.by[best] {
+			best = place
+		}
+	}
+	return best
+}
+
+// exchange makes a row tell the number at a place, by the one that it told.
+func (t *tableau) exchange(r int, place int) {
+	turned := t.rows[r].turned(place)
+	t.rows[r] = turned
+	held := t.told[r]
+	t.told[r] = t.by[place]
+	t.by[place] = held
+	for i := range t.rows {
+		if i != r && whole.Sign(at(t.rows[i].times, place)) != 0 {
+			t.rows[i] = t.rows[i].replaced(place, turned)
+		}
+	}
+}
+
+// turned tells the number at a place, by the one that the row tells in its place.
+func (w row) turned(place int) row {
+	parts := at(w.times, place)
+	old := w.parts
+	number := w.number
+	above := whole.Sign(parts) > 0
+	if above {
+		number = whole.Negate(number)
+	} else {
+		parts = whole.Negate(parts)
+		old = whole.Negate(old)
+	}
+	made := row{parts: parts, number: number}
+	for i, times := range w.times {
+		switch {
+		case i == place:
+			times = old
+		case above:
+			times = whole.Negate(times)
+		}
+		made.times = append(made.times, times)
+	}
+	return made
+}
+
+// replaced tells the same with what another row says of the number at a place, by the one that stands there now.
+func (w row) replaced(place int, other row) row {
+	often := at(w.times, place)
+	made := row{parts: whole.Multiply(w.parts, other.parts)}
+	made.number = mixed(w.number, other.parts, other.number, often)
+	for i, times := range w.times {
+		if i == place {
+			times = whole.Number{}
+		}
+		made.times = append(made.times, mixed(times, other.parts, at(other.times, i), often))
+	}
+	return made.reduced()
+}
+
+// mixed is a so many times and b so many times.
+func mixed(a whole.Number, often whole.Number, b whole.Number, oftenToo whole.Number) whole.Number {
+	first := whole.Multiply(a, often)
+	second := whole.Multiply(b, oftenToo)
+	return whole.Add(first, second)
+}
+
+// reduced divides a row by what divides all of it.
+func (w row) reduced() row {
+	one := whole.From(1)
+	divisor := whole.CommonDivisor(w.parts, w.number)
+	for i := 0; i < len(w.times) && whole.Compare(divisor, one) != 0; i++ {
+		divisor = whole.CommonDivisor(divisor, w.times[i])
+	}
+	if whole.Compare(divisor, one) <= 0 {
+		return w
+	}
+	made := row{parts: whole.DivideUp(w.parts, divisor), number: whole.DivideUp(w.number, divisor)}
+	for _, times := range w.times {
+		made.times = append(made.times, whole.DivideUp(times, divisor))
+	}
+	return made
+}
+
+// at is the number at a place; 0 where there is none.
+func at(list []whole.Number, i int) whole.Number {
+	if i < 0 || i >= len(list) {
+		return whole.Number{}
+	}
+	return list[i]
+}

@@ -1,0 +1,135 @@
+package search
+
+import (
+	"reason/api"
+	"reason/atoms"
+	"reason/linear"
+	"reason/stack"
+	"reason/sums"
+	"reason/whole"
+	"strconv"
+)
+
+// order takes in what is always so of numbers: how equal and at most hang together, and which of two that have no unknown is the greater.
+func (s *search) order() {
+	s.columns = columnsOf(s.st)
+	s.orderPairs()
+	for i := range s.things {
+		l := atoms.Literal{Atom: s.things[i].atom}
+		if l.Atom.Kind != atoms.IsAtMost {
+			continue
+		}
+		sum := s.sumOf(l)
+		if len(sum.Parts) > 0 {
+			continue
+		}
+		l.Not = whole.Sign(sum.Number) > 0
+		s.say(line{ready: "A " + l.Text() + " | f 1;", literals: []int{atoms.Code(i, l.Not)}})
+	}
+}
+
+// orderPairs takes in, of each two numbers of which it counts whether they are equal, that they are just if each is at most the other, and that one is.
+func (s *search) orderPairs() {
+	for i := 0; i < len(s.things); i++ {
+		a := s.things[i].atom
+		if a.Kind != atoms.AreEqual || s.st.Term(a.A).Sort != api.Int {
+			continue
+		}
+		less := s.is(atoms.AtMost(a.A, a.B))
+		more := s.is(atoms.AtMost(a.B, a.A))
+		head := "Q " + strconv.Itoa(a.A) + " " + strconv.Itoa(a.B)
+		s.all(head, atoms.Code(i, false), []int{less, more})
+		ready := "A " + s.literal(less).Text() + " " + s.literal(more).Text() + " | f 1 1;"
+		s.say(line{ready: ready, literals: []int{less, more}})
+	}
+}
+
+// columnsOf tells the terms of Int that stand for themselves in sums, first those of symbols without arguments: where all these have whole values, in a stack that is bounded the others do too.
+func columnsOf(st *stack.Stack) []int {
+	var symbols []int
+	var others []int
+	for number, t := range st.Terms {
+		if t.Sort != api.Int || t.Op != stack.Apply && t.Op != stack.Ite {
+			continue
+		}
+		if t.Op == stack.Apply && len(t.Args) == 0 {
+			symbols = append(symbols, number)
+			continue
+		}
+		others = append(others, number)
+	}
+	return append(symbols, others...)
+}
+
+// count looks for whole numbers that fit what is so, and tells a line that contradicts it; -1, if there is none: then the numbers are found, or the search is lost.
+func (s *search) count() int {
+	var codes []int
+	var list []sums.Sum
+	for _, code := range s.trail {
+		l := s.literal(code)
+		if l.Atom.Kind == atoms.IsAtMost {
+			codes = append(codes, code)
+			list = append(list, s.sumOf(l))
+		}
+	}
+	out := linear.Solve(s.columns, list)
+	s.spent += out.Steps - 1
+	if out.Closed {
+		return s.sayTree(codes, out)
+	}
+	s.values = out.Values
+	s.lost = !out.Found
+	return -1
+}
+
+// sumOf is the sum that is at most 0, if a literal of two numbers is so.
+func (s *search) sumOf(l atoms.Literal) sums.Sum {
+	a := sums.At(s.terms, l.Atom.A)
+	b := sums.At(s.terms, l.Atom.B)
+	if !l.Not {
+		return sums.Minus(a, b, len(s.terms))
+	}
+	less := sums.Minus(b, a, len(s.terms))
+	less.Number = whole.Add(less.Number, whole.From(1))
+	return less
+}
+
+// sayTree takes in a line A: not all of the literals are so that the tree needs.
+func (s *search) sayTree(codes []int, out linear.Outcome) int {
+	ready := []byte("A")
+	var literals []int
+	for i, used := range out.Used() {
+		if !used || i >= len(codes) {
+			continue
+		}
+		code := atoms.Opposite(codes[i])
+		literals = append(literals, code)
+		ready = append(ready, " "+s.literal(code).Text()...)
+	}
+	ready = append(ready, " | "+out.Tree()...)
+	return s.say(line{ready: string(ready), literals: literals})
+}
+
+// worth is the value of a term of Int, when the numbers are found.
+func (s *search) worth(number int) whole.Number {
+	sum := sums.At(s.terms, number)
+	worth := sum.Number
+	for _, p := range sum.Parts {
+		more := whole.Multiply(p.Times, s.valueOf(p.Term))
+		worth = whole.Add(worth, more)
+	}
+	return worth
+}
+
+// valueOf is the value of a column.
+func (s *search) valueOf(term int) whole.Number {
+	for i, column := range s.columns {
+		if column == term && i < len(s.values) {
+			return s.values[i]
+		}
+	}
+	return whole.Number{}
+}
+
+// isTrue tells whether a term of Bool is told to be true.
+func (s *search) isTrue(number int) bool { return s.isSo(s.is(atoms.Truth(number))) }

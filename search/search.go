@@ -1,0 +1,147 @@
+// Package search finds out whether all that is asserted can be true, with a model or a proof (P10).
+//
+// It guesses of one atom after the other whether it is so, and lets follow what follows. Where that comes to a contradiction, it learns a clause of it, which is a line of a proof, and takes guesses back. In the end there is no atom left to guess of, or a contradiction without a guess.
+package search
+
+import (
+	"reason/api"
+	"reason/atoms"
+	"reason/model"
+	"reason/stack"
+	"reason/sums"
+	"reason/whole"
+)
+
+// thing is an atom, and what is known of it.
+type thing struct {
+	atom   atoms.Atom
+	told   bool // it is known whether it is so
+	so     bool // whether it is so; of one that is not told: as it was told last
+	depth  int  // how many guesses there were when it was told
+	line   int  // the line from which it follows; -1, if it was guessed
+	weight int  // how much it had to do with the last contradictions
+}
+
+// search is a search on its way. Of a thing there are two literals, by their codes (atoms.Code of the thing's place).
+type search struct {
+	st      *stack.Stack
+	terms   []sums.Sum     // the stack's terms, taken apart
+	columns []int          // the terms of Int that stand for themselves: first the symbols
+	values  []whole.Number // by column, when they are found
+	found   []api.Entry    // a model, when it is found
+	things  []thing
+	places  []int // by an atom's place among all: its thing's place, and 1; 0, if there is none
+	lines   []line
+	waiting [][]int // by literal: the lines that wait at it
+	trail   []int   // the literals that are so, in the order in which they were told
+	guesses []int   // how long the trail was at each guess
+	done    int     // of so many of the trail it was looked at what follows
+	wrong   int     // a line that contradicts what is so without a guess; -1, as long as there is none
+	lessons int     // contradictions that were learned from
+	spent   int
+	lost    bool // it cannot go on: no budget is enough
+}
+
+// Check looks with a budget; with one below 0 it spends as much as it takes, which comes to an end if the stack is bounded.
+func Check(st *stack.Stack, budget int) api.Reply {
+	s := search{st: st, terms: sums.OfTerms(st), wrong: -1}
+	s.places = make([]int, atoms.Places(len(st.Terms)))
+	s.begin()
+	for !s.lost && (budget < 0 || s.spent <= budget) {
+		verdict := s.step()
+		if s.lost || budget >= 0 && s.spent > budget {
+			break
+		}
+		switch verdict {
+		case api.Sat:
+			return api.Reply{V: api.Sat, Model: s.found, Spent: s.spent}
+		case api.Unsat:
+			return api.Reply{V: api.Unsat, Proof: s.proof(), Spent: s.spent}
+		}
+	}
+	if s.lost {
+		s.spent += api.MaxBudget + 1
+	}
+	return api.Reply{V: api.Unknown, Spent: s.spent}
+}
+
+// begin takes in what the terms and the assertions say.
+func (s *search) begin() {
+	for number := range s.st.Terms {
+		s.define(number)
+	}
+	s.order()
+	for _, number := range s.st.Held {
+		s.hold(number)
+	}
+}
+
+// step goes on up to the next guess, lesson or verdict. A guess costs 1, and so does a lesson.
+func (s *search) step() api.Verdict {
+	bad := s.settle()
+	if bad < 0 {
+		open := s.pick()
+		if open >= 0 {
+			s.spent++
+			s.guess(open)
+			return api.None
+		}
+		bad = s.count()
+		if bad < 0 {
+			s.find()
+			return api.Sat
+		}
+	}
+	if !s.learn(bad) {
+		return api.Unsat
+	}
+	s.spent++
+	return api.None
+}
+
+// find tells a model. Numbers that symbols take may be equal in it though that was not told: where it does not hold, the search is lost.
+func (s *search) find() {
+	s.found = s.model()
+	holds, _ := model.Holds(s.st, s.found)
+	s.lost = s.lost || !holds
+}
+
+// settle lets follow what follows from what is so, and tells a line that contradicts it; -1, if none does.
+func (s *search) settle() int {
+	for s.wrong < 0 {
+		bad := s.follow()
+		if bad >= 0 {
+			return bad
+		}
+		before := len(s.trail)
+		bad = s.compare()
+		if bad >= 0 || len(s.trail) == before {
+			return bad
+		}
+	}
+	return s.wrong
+}
+
+// pick is a thing that is not told, of those the one with the most weight; -1, if all are told.
+func (s *search) pick() int {
+	best := -1
+	for i := range s.things {
+		if s.things[i].told {
+			continue
+		}
+		if best < 0 || s.things[i].weight > s.things[best].weight {
+			best = i
+		}
+	}
+	return best
+}
+
+// guess lets a thing be as it was last.
+func (s *search) guess(i int) {
+	if i < 0 || i >= len(s.things) {
+		return
+	}
+	s.guesses = append(s.guesses, len(s.trail))
+	code := atoms.Code(i, !s.things[i].so)
+	s.let(code, -1)
+}
