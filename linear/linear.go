@@ -11,23 +11,25 @@ const deepest = 64
 
 // Outcome is what was found out: values of the columns, a tree, or neither.
 type Outcome struct {
-	Found  bool
-	Closed bool
-	Values []whole.Number // by column
-	Steps  int            // how much had to be looked at
-	cut    []bool         // by sum that was given: it was rounded
-	nodes  []node         // a tree, in the order in which it is told
+	Found   bool
+	Closed  bool
+	TooDeep bool           // too many splits would lie within each other
+	Values  []whole.Number // by column
+	Splits  int            // how many had to be made
+	cut     []bool         // by sum that was given: it was rounded
+	nodes   []node         // a tree, in the order in which it is told
 }
 
 // solving is an outcome on its way.
 type solving struct {
 	columns []int
+	most    int
 	out     Outcome
 }
 
-// Solve looks for values of the columns, which are all terms that are in the sums. Where values could be fractions, it splits the first column that has one.
-func Solve(columns []int, list []sums.Sum) Outcome {
-	p := solving{columns: columns}
+// Solve looks for values of the columns, which are all terms that are in the sums. Where values are fractions, it splits the first column that has one; with more splits than may be, it ends with one more. With a number of splits below 0, there may be as many as it takes.
+func Solve(columns []int, list []sums.Sum, most int) Outcome {
+	p := solving{columns: columns, most: most}
 	var rounded []sums.Sum
 	for _, s := range list {
 		r := sums.Rounded(s)
@@ -39,7 +41,8 @@ func Solve(columns []int, list []sums.Sum) Outcome {
 		p.out.cut = append(p.out.cut, cut)
 	}
 	t := newTableau(columns, rounded)
-	p.out.Closed = p.close(&t, 0)
+	closed := p.close(&t, 0)
+	p.out.Closed = closed
 	if !p.out.Found {
 		p.out.Values = nil
 	}
@@ -62,7 +65,6 @@ func isNearer(s sums.Sum, rounded sums.Sum) bool {
 
 // close tells whether there are no values for the sums of a tableau; the tree grows by why.
 func (p *solving) close(t *tableau, depth int) bool {
-	p.out.Steps++
 	r := t.settle()
 	if r >= 0 {
 		p.out.nodes = append(p.out.nodes, node{times: t.multiples(r)})
@@ -73,7 +75,9 @@ func (p *solving) close(t *tableau, depth int) bool {
 		p.out.Found = true
 		return false
 	}
-	if depth >= deepest {
+	p.out.Splits++
+	p.out.TooDeep = depth >= deepest
+	if p.out.TooDeep || p.most >= 0 && p.out.Splits > p.most {
 		return false
 	}
 	p.out.nodes = append(p.out.nodes, node{split: true, term: p.columns[unknown], bound: bound})

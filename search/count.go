@@ -61,7 +61,7 @@ func columnsOf(st *stack.Stack) []int {
 	return append(symbols, others...)
 }
 
-// count looks for whole numbers that fit what is so, and tells a line that contradicts it; -1, if there is none: then the numbers are found, or the search is lost.
+// count looks for whole numbers that fit what is so, and tells a line that contradicts it; -1, if there is none: then the numbers are found, or too much is spent, or the search is lost.
 func (s *search) count() int {
 	var codes []int
 	var list []sums.Sum
@@ -72,13 +72,17 @@ func (s *search) count() int {
 			list = append(list, s.sumOf(l))
 		}
 	}
-	out := linear.Solve(s.columns, list)
-	s.spent += out.Steps - 1
+	most := -1
+	if s.budget >= 0 {
+		most = s.budget - s.spent
+	}
+	out := linear.Solve(s.columns, list, most)
+	s.spent += out.Splits
 	if out.Closed {
 		return s.sayTree(codes, out)
 	}
 	s.values = out.Values
-	s.lost = !out.Found
+	s.lost = out.TooDeep
 	return -1
 }
 

@@ -36,11 +36,14 @@ func (s *search) model() []api.Entry {
 func (r *reading) enter(number int, t stack.Term) {
 	var args []string
 	for _, a := range t.Args {
-		args = append(args, r.value(a))
+		value := r.value(a)
+		args = append(args, value)
 	}
-	if !r.has(t.Sym, args) {
-		r.entries = append(r.entries, api.Entry{Sym: t.Sym, Args: args, Val: r.value(number)})
+	if r.has(t.Sym, args) {
+		return
 	}
+	value := r.value(number)
+	r.entries = append(r.entries, api.Entry{Sym: t.Sym, Args: args, Val: value})
 }
 
 // has tells whether there is an entry of a symbol for arguments.

@@ -27,7 +27,7 @@ type search struct {
 	st      *stack.Stack
 	terms   []sums.Sum     // the stack's terms, taken apart
 	columns []int          // the terms of Int that stand for themselves: first the symbols
-	values  []whole.Number // by column, when they are found
+	values  []whole.Number // by column, when numbers are found that fit what is so
 	found   []api.Entry    // a model, when it is found
 	things  []thing
 	places  []int // by an atom's place among all: its thing's place, and 1; 0, if there is none
@@ -38,32 +38,34 @@ type search struct {
 	done    int     // of so many of the trail it was looked at what follows
 	wrong   int     // a line that contradicts what is so without a guess; -1, as long as there is none
 	lessons int     // contradictions that were learned from
+	budget  int     // what may be spent; below 0: as much as it costs
 	spent   int
 	lost    bool // it cannot go on: no budget is enough
 }
 
 // Check looks with a budget; with one below 0 it spends as much as it takes, which comes to an end if the stack is bounded.
 func Check(st *stack.Stack, budget int) api.Reply {
-	s := search{st: st, terms: sums.OfTerms(st), wrong: -1}
+	s := search{st: st, terms: sums.OfTerms(st), wrong: -1, budget: budget}
 	s.places = make([]int, atoms.Places(len(st.Terms)))
 	s.begin()
-	for !s.lost && (budget < 0 || s.spent <= budget) {
-		verdict := s.step()
-		if s.lost || budget >= 0 && s.spent > budget {
-			break
+	verdict := api.None
+	for verdict == api.None {
+		verdict = s.step()
+		if s.lost {
+			s.spent += api.MaxBudget + 1
 		}
-		switch verdict {
-		case api.Sat:
-			return api.Reply{V: api.Sat, Model: s.found, Spent: s.spent}
-		case api.Unsat:
-			return api.Reply{V: api.Unsat, Proof: s.proof(), Spent: s.spent}
+		if s.lost || s.isPoor() {
+			return api.Reply{V: api.Unknown, Spent: s.spent}
 		}
 	}
-	if s.lost {
-		s.spent += api.MaxBudget + 1
+	if verdict == api.Unsat {
+		return api.Reply{V: api.Unsat, Proof: s.proof(), Spent: s.spent}
 	}
-	return api.Reply{V: api.Unknown, Spent: s.spent}
+	return api.Reply{V: api.Sat, Model: s.found, Spent: s.spent}
 }
+
+// isPoor tells whether more was spent than there was to spend.
+func (s *search) isPoor() bool { return s.budget >= 0 && s.spent > s.budget }
 
 // begin takes in what the terms and the assertions say.
 func (s *search) begin() {
@@ -76,7 +78,7 @@ func (s *search) begin() {
 	}
 }
 
-// step goes on up to the next guess, lesson or verdict. A guess costs 1, and so does a lesson.
+// step goes on up to the next guess, lesson or verdict. A guess costs 1, and so do a lesson and a split of numbers.
 func (s *search) step() api.Verdict {
 	bad := s.settle()
 	if bad < 0 {
@@ -87,10 +89,9 @@ func (s *search) step() api.Verdict {
 			return api.None
 		}
 		bad = s.count()
-		if bad < 0 {
-			s.find()
-			return api.Sat
-		}
+	}
+	if bad < 0 {
+		return s.find()
 	}
 	if !s.learn(bad) {
 		return api.Unsat
@@ -99,11 +100,15 @@ func (s *search) step() api.Verdict {
 	return api.None
 }
 
-// find tells a model. Numbers that symbols take may be equal in it though that was not told: where it does not hold, the search is lost.
-func (s *search) find() {
+// find tells a model, if all is told and numbers are found. Numbers that symbols take may be equal in it though it was not asked whether they are: where it does not hold, the search is lost.
+func (s *search) find() api.Verdict {
+	if s.lost || s.isPoor() {
+		return api.None
+	}
 	s.found = s.model()
 	holds, _ := model.Holds(s.st, s.found)
-	s.lost = s.lost || !holds
+	s.lost = !holds
+	return api.Sat
 }
 
 // settle lets follow what follows from what is so, and tells a line that contradicts it; -1, if none does.

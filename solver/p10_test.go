@@ -48,7 +48,7 @@ func wantBacked(t *testing.T, s *solver.Session, r api.Reply) {
 func lesser(cost int) []int {
 	var list []int
 	for b := 0; b < cost; b++ {
-		if b < 12 || b > cost-6 || b%(cost/8+1) == 0 {
+		if b < 64 || b > cost-6 || b%(cost/8+1) == 0 {
 			list = append(list, b)
 		}
 	}
@@ -356,12 +356,12 @@ func TestCheckInt(t *testing.T) {
 	}
 }
 
-// TestCheckRandom: P10 of many stacks; of those of truth values alone the verdict is compared with what Holds says of all models.
+// TestCheckRandom: P10 of many stacks; of those of truth values, and of numerals that hang on them, the verdict is compared with what Holds says of all models.
 func TestCheckRandom(t *testing.T) {
 	r := rand.New(rand.NewSource(10))
 	counts := [4]int{}
-	for round := 0; round < 400; round++ {
-		g := writer{r: r, elements: round%2 == 1}
+	for round := 0; round < 600; round++ {
+		g := writer{r: r, elements: round%3 == 1, numerals: round%3 == 2}
 		s := session(t, bools...)
 		if g.elements {
 			s = session(t, elements...)
@@ -390,6 +390,7 @@ func TestCheckRandom(t *testing.T) {
 type writer struct {
 	r        *rand.Rand
 	elements bool
+	numerals bool
 }
 
 // bool writes a term of Bool.
@@ -399,6 +400,9 @@ func (w writer) bool(depth int) string {
 			return []string{"p", "(m a)", "(m b)", "(n a b)", "(= a b)", "(= b c)", "(= (f a) c)"}[w.r.Intn(7)]
 		}
 		return []string{"p", "q", "r"}[w.r.Intn(3)]
+	}
+	if w.numerals && w.r.Intn(3) == 0 {
+		return "(" + []string{"=", "distinct", "<", "<=", ">"}[w.r.Intn(5)] + " " + w.numeral(depth-1) + " " + w.numeral(depth-1) + ")"
 	}
 	one, two, three := w.bool(depth-1), w.bool(depth-1-w.r.Intn(2)), w.bool(depth-2)
 	switch k := w.r.Intn(10); {
@@ -430,4 +434,18 @@ func (w writer) element(depth int) string {
 		return "(ite " + w.bool(depth-1) + " " + w.element(depth-1) + " " + w.element(depth-1) + ")"
 	}
 	return "(f " + w.element(depth-1) + ")"
+}
+
+// numeral writes a term of Int without a symbol of Int.
+func (w writer) numeral(depth int) string {
+	if depth <= 0 || w.r.Intn(4) == 0 {
+		return []string{"0", "1", "2", "7", "(- 3)"}[w.r.Intn(5)]
+	}
+	switch w.r.Intn(4) {
+	case 0:
+		return "(+ " + w.numeral(depth-1) + " " + w.numeral(depth-1) + ")"
+	case 1:
+		return "(* " + fmt.Sprint(w.r.Intn(4)) + " " + w.numeral(depth-1) + ")"
+	}
+	return "(ite " + w.bool(depth-1) + " " + w.numeral(depth-1) + " " + w.numeral(depth-1) + ")"
 }
