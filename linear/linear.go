@@ -6,43 +6,44 @@ import (
 	"reason/whole"
 )
 
-// deepest is how many splits may lie within each other. Of three unknowns that have at most 16 values each, there are never more than 45: each takes a value away at the least.
-const deepest = 64
+// tries is how many splits of columns are made, before it is looked for values in another way: for where columns have no bound, splits may have no end.
+const tries = 16
 
-// Outcome is what was found out: values of the columns, a tree, or neither.
+// Outcome is what was found out: values of the columns, a tree, or neither, if that would cost too much.
 type Outcome struct {
-	Found   bool
-	Closed  bool
-	TooDeep bool           // too many splits would lie within each other
-	Values  []whole.Number // by column
-	Splits  int            // how many had to be made
-	cut     []bool         // by sum that was given: it was rounded
-	nodes   []node         // a tree, in the order in which it is told
+	Found  bool
+	Closed bool
+	Values []whole.Number // by column
+	Spent  int            // what it cost: 1 for a split, 1 or more for a cut
+	cut    []bool         // by sum that was given: it was rounded
+	nodes  []node         // a tree, in the order in which it is told
 }
 
 // solving is an outcome on its way.
 type solving struct {
 	columns []int
-	most    int
+	most    int // how much may be spent; below 0: as much as it takes
+	tries   int // how many splits may be made; below 0: as many as it takes
 	out     Outcome
 }
 
-// Solve looks for values of the columns, which are all terms that are in the sums. Where values are fractions, it splits the first column that has one; with more splits than may be, it ends with one more. With a number of splits below 0, there may be as many as it takes.
-func Solve(columns []int, list []sums.Sum, most int) Outcome {
-	p := solving{columns: columns, most: most}
-	var rounded []sums.Sum
-	for _, s := range list {
-		r := sums.Rounded(s)
-		cut := isNearer(s, r)
-		if !cut {
-			r = s
-		}
-		rounded = append(rounded, r)
-		p.out.cut = append(p.out.cut, cut)
+// Solve looks for values of the columns, which are all terms that are in the sums. It ends when more is spent than the most, if that is not below 0.
+//
+// Where values are fractions, it splits the first column that has one. If the first columns are narrow (few, and each with a few values, so that with whole values of these the others are whole too), that has an end.
+func Solve(columns []int, list []sums.Sum, most int, narrow bool) Outcome {
+	p := solving{columns: columns, most: most, tries: tries}
+	if narrow {
+		p.tries = -1
 	}
-	t := newTableau(columns, rounded)
-	closed := p.close(&t, 0)
-	p.out.Closed = closed
+	forms := p.rounded(list)
+	t := newTableau(len(columns), forms)
+	again := t.copied()
+	closed := p.close(&t)
+	if p.isAstray() {
+		closed = p.face(forms, &again)
+	}
+	p.out.Closed = closed && !p.isPoor()
+	p.out.Found = p.out.Found && !p.isPoor()
 	if !p.out.Found {
 		p.out.Values = nil
 	}
@@ -50,6 +51,21 @@ func Solve(columns []int, list []sums.Sum, most int) Outcome {
 		p.out.nodes = nil
 	}
 	return p.out
+}
+
+// rounded tells sums over the columns, rounded where that says more.
+func (p *solving) rounded(list []sums.Sum) []form {
+	var forms []form
+	for _, s := range list {
+		r := sums.Rounded(s)
+		cut := isNearer(s, r)
+		if !cut {
+			r = s
+		}
+		forms = append(forms, formOf(p.columns, r))
+		p.out.cut = append(p.out.cut, cut)
+	}
+	return forms
 }
 
 // isNearer tells whether a sum says more when it is rounded: if its number is not divided without rest.
@@ -63,8 +79,14 @@ func isNearer(s sums.Sum, rounded sums.Sum) bool {
 	return whole.Compare(first, second) != 0
 }
 
-// close tells whether there are no values for the sums of a tableau; the tree grows by why.
-func (p *solving) close(t *tableau, depth int) bool {
+// isPoor tells whether more was spent than there was to spend.
+func (p *solving) isPoor() bool { return p.most >= 0 && p.out.Spent > p.most }
+
+// isAstray tells whether more splits were made than were to be tried.
+func (p *solving) isAstray() bool { return p.tries >= 0 && p.out.Spent > p.tries && !p.isPoor() }
+
+// close tells whether there are no values for the forms of a tableau; the tree grows by why. Each split within another takes values away from a column: so where columns are narrow, this comes to an end.
+func (p *solving) close(t *tableau) bool {
 	r := t.settle()
 	if r >= 0 {
 		p.out.nodes = append(p.out.nodes, node{times: t.multiples(r)})
@@ -75,19 +97,18 @@ func (p *solving) close(t *tableau, depth int) bool {
 		p.out.Found = true
 		return false
 	}
-	p.out.Splits++
-	p.out.TooDeep = depth >= deepest
-	if p.out.TooDeep || p.most >= 0 && p.out.Splits > p.most {
+	p.out.Spent++
+	if p.isPoor() || p.isAstray() {
 		return false
 	}
-	p.out.nodes = append(p.out.nodes, node{split: true, term: p.columns[unknown], bound: bound})
+	p.out.nodes = append(p.out.nodes, node{kind: isSplit, term: p.columns[unknown], bound: bound})
 	lower := t.with(unknown, whole.From(1), whole.Negate(bound))
-	if !p.close(&lower, depth+1) {
+	if !p.close(&lower) {
 		return false
 	}
 	above := whole.Add(bound, whole.From(1))
 	upper := t.with(unknown, whole.From(-1), above)
-	return p.close(&upper, depth+1)
+	return p.close(&upper)
 }
 
 // broken tells the first unknown whose value is not whole, and the whole number below it; -1, if there is none. The values are kept.
@@ -96,7 +117,7 @@ func (p *solving) broken(t *tableau) (int, whole.Number) {
 	first := -1
 	bound := whole.Number{}
 	for i, number := range t.told {
-		if number >= len(p.columns) {
+		if number < 0 || number >= len(p.columns) {
 			continue
 		}
 		r := t.rows[i]
@@ -109,4 +130,20 @@ func (p *solving) broken(t *tableau) (int, whole.Number) {
 		}
 	}
 	return first, bound
+}
+
+// face looks for values in another way than by splits, and tells whether there are none.
+func (p *solving) face(forms []form, t *tableau) bool {
+	t.settle()
+	most := -1
+	if p.most >= 0 {
+		most = p.most - p.out.Spent
+	}
+	f := newFacing(len(p.columns), forms, t, most)
+	m, closed := f.close(0, f.all())
+	p.out.Spent += f.spent
+	p.out.Found = !closed && f.values != nil
+	p.out.Values = f.values
+	p.out.nodes = f.nodes(m)
+	return closed
 }

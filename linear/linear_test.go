@@ -63,9 +63,9 @@ func TestSolve(t *testing.T) {
 		for way := 0; way < 216 && !some; way++ {
 			some = fits(list, []whole.Number{whole.From(way%6 - 2), whole.From(way/6%6 - 2), whole.From(way/36 - 2)})
 		}
-		out := linear.Solve([]int{0, 1, 2}, list, -1)
-		if out.Found != some || out.Closed == some || out.TooDeep {
-			t.Fatalf("%v: found %v, closed %v, too deep %v, want %v", list, out.Found, out.Closed, out.TooDeep, some)
+		out := linear.Solve([]int{0, 1, 2}, list, -1, true)
+		if out.Found != some || out.Closed == some {
+			t.Fatalf("%v: found %v, closed %v, want %v", list, out.Found, out.Closed, some)
 		}
 		if some && (len(out.Values) != 3 || !fits(list, out.Values)) {
 			t.Fatalf("%v: %v", list, out.Values)
@@ -73,10 +73,10 @@ func TestSolve(t *testing.T) {
 		if !some && (out.Values != nil || len(out.Used()) != len(list) || strings.Count(out.Tree(), "f") != strings.Count(out.Tree(), "s")+1) {
 			t.Fatalf("%v: %v, %v, %q", list, out.Values, out.Used(), out.Tree())
 		}
-		for most := 0; most <= out.Splits+1; most++ {
-			again := linear.Solve([]int{0, 1, 2}, list, most)
-			if enough := most >= out.Splits; again.Found != (enough && some) || again.Closed != (enough && !some) || !enough && again.Splits != most+1 {
-				t.Fatalf("%v: with %d of %d splits: %+v", list, most, out.Splits, again)
+		for most := 0; most <= out.Spent+1; most++ {
+			again := linear.Solve([]int{0, 1, 2}, list, most, true)
+			if enough := most >= out.Spent; again.Found != (enough && some) || again.Closed != (enough && !some) || !enough && again.Spent != most+1 {
+				t.Fatalf("%v: with %d of %d splits: %+v", list, most, out.Spent, again)
 			}
 		}
 		if some {
@@ -103,7 +103,7 @@ func TestTrees(t *testing.T) {
 		{[]sums.Sum{sum(-1, 2, -2), sum(-9, 1), sum(1, -2, 2)}, "101", "c 1 0; c 0 1 0; f 0 0 1 1;"},
 		{[]sums.Sum{sum(-2, 1, 1), sum(2, -1, -1), sum(-1, 1, -1), sum(1, -1, 1)}, "1111", "s 0 1 f 0 1 0 1 2; f 1 0 1 0 2;"},
 	} {
-		out := linear.Solve([]int{0, 1}, c.list, -1)
+		out := linear.Solve([]int{0, 1}, c.list, -1, true)
 		used := ""
 		for _, u := range out.Used() {
 			used += map[bool]string{false: "0", true: "1"}[u]
@@ -112,23 +112,7 @@ func TestTrees(t *testing.T) {
 			t.Errorf("%v: %v, %q, %q; want %q, %q", c.list, out.Closed, used, out.Tree(), c.used, c.tree)
 		}
 	}
-	if out := linear.Solve(nil, nil, 0); !out.Found || out.Closed || out.Splits != 0 {
+	if out := linear.Solve(nil, nil, 0, true); !out.Found || out.Closed || out.Spent != 0 {
 		t.Errorf("nothing: %+v", out)
-	}
-}
-
-// TestTooDeep: where splits have no end, it comes to one.
-func TestTooDeep(t *testing.T) {
-	// 6y - 6x - 3z lies between 2 and 4, and z is 0: no values fit, and none of x and y is too great to be tried.
-	list := []sums.Sum{sum(2, 6, -6, 3), sum(-4, -6, 6, -3), sum(0, 0, 0, 2), sum(0, 0, 0, -2)}
-	out := linear.Solve([]int{0, 1, 2}, list, -1)
-	if out.Found {
-		t.Errorf("found %v", out.Values)
-	}
-	if !out.TooDeep && !out.Closed {
-		t.Errorf("neither closed nor too deep: %+v", out)
-	}
-	if out.TooDeep && (out.Values != nil || out.Tree() != "") {
-		t.Errorf("too deep, with %v and %q", out.Values, out.Tree())
 	}
 }

@@ -1,83 +1,71 @@
 package linear
 
-import (
-	"reason/sums"
-	"reason/whole"
-)
+import "reason/whole"
 
-// row tells a number by others: parts times it is a number and each other so many times. Parts is above 0.
+// row tells a number by others: parts times it is a number and each other so many times. Parts is above 0. A row is never changed, but another put in its place: so tableaus may have the same.
 type row struct {
 	parts  whole.Number
 	number whole.Number
 	times  []whole.Number // by place among those by which rows tell
 }
 
-// tableau tells some numbers by others. A number is an unknown, from 0 on, or behind these the rest of a sum: 0 less the sum. A sum is at most 0 just if its rest is not below 0. Those by which the rows tell are 0 for the time being.
+// tableau tells some numbers by others. A number is an unknown, from 0 on, or behind these the rest of a form: 0 less the form. A form is at most 0 just if its rest is not below 0. Those by which the rows tell are 0 for the time being.
 type tableau struct {
 	unknowns int
-	told     []int // by row: the number that it tells
+	rests    int
+	told     []int // by row: the number that it tells; -1 of one that is neither an unknown nor a rest
 	by       []int // by place: the number by which rows tell
 	rows     []row
 }
 
-// newTableau tells the rests of sums by the unknowns, which are the terms of the columns.
-func newTableau(columns []int, list []sums.Sum) tableau {
-	t := tableau{unknowns: len(columns)}
-	for i := range columns {
+// newTableau tells the rests of forms by so many unknowns.
+func newTableau(unknowns int, list []form) tableau {
+	t := tableau{unknowns: unknowns, rests: len(list)}
+	for i := 0; i < unknowns; i++ {
 		t.by = append(t.by, i)
 	}
-	for i, s := range list {
-		r := row{parts: whole.From(1), number: whole.Negate(s.Number)}
-		for _, term := range columns {
-			times := timesOf(s, term)
-			r.times = append(r.times, whole.Negate(times))
-		}
-		t.told = append(t.told, len(columns)+i)
-		t.rows = append(t.rows, r)
+	for i, f := range list {
+		t.told = append(t.told, unknowns+i)
+		t.rows = append(t.rows, row{parts: whole.From(1), number: whole.Negate(f.number), times: negated(f.times)})
 	}
 	return t
 }
 
-// timesOf tells how often a term is in a sum.
-func timesOf(s sums.Sum, term int) whole.Number {
-	for _, p := range s.Parts {
-		if p.Term == term {
-			return p.Times
-		}
-	}
-	return whole.Number{}
-}
-
-// with is a tableau like this one with one sum more: an unknown so many times, which is 1 or -1, and a number. This one stays as it is; a row is never changed, but another put in its place: so both may have the same.
-func (t *tableau) with(unknown int, times whole.Number, number whole.Number) tableau {
-	made := tableau{unknowns: t.unknowns}
+// copied is a tableau like this one: what is done to it leaves this one as it is.
+func (t *tableau) copied() tableau {
+	made := tableau{unknowns: t.unknowns, rests: t.rests}
 	made.told = append(made.told, t.told...)
 	made.by = append(made.by, t.by...)
 	made.rows = append(made.rows, t.rows...)
+	return made
+}
+
+// with is a tableau like this one with one form more: an unknown so many times, which is 1 or -1, and a number.
+func (t *tableau) with(unknown int, times whole.Number, number whole.Number) tableau {
+	made := t.copied()
 	r := t.rowOf(unknown)
 	rest := row{parts: r.parts, number: mixed(r.number, whole.Negate(times), number, whole.Negate(r.parts))}
 	for _, n := range r.times {
 		rest.times = append(rest.times, whole.Multiply(n, whole.Negate(times)))
 	}
-	made.told = append(made.told, t.unknowns+len(t.rows))
+	made.told = append(made.told, t.unknowns+t.rests)
 	made.rows = append(made.rows, rest)
+	made.rests++
 	return made
 }
 
-// rowOf tells an unknown by those by which the rows tell.
-func (t *tableau) rowOf(unknown int) row {
-	for i, number := range t.told {
-		if number == unknown {
+// rowOf tells a number by those by which the rows tell.
+func (t *tableau) rowOf(number int) row {
+	for i, other := range t.told {
+		if number == other {
 			return t.rows[i]
 		}
 	}
-	r := row{parts: whole.From(1)}
-	for _, number := range t.by {
-		if number == unknown {
-			r.times = append(r.times, whole.From(1))
-			continue
+	r := row{parts: whole.From(1), times: make([]whole.Number, len(t.by))}
+	for i, other := range t.by {
+		if number == other {
+			r.times[i] = whole.From(1)
 		}
-		r.times = append(r.times, whole.Number{})
 	}
 	return r
 }
@@ -154,7 +142,7 @@ func (w row) turned(place int) row {
 		parts = whole.Negate(parts)
 		old = whole.Negate(old)
 	}
-	made := row{parts: parts, number: number}
+	made := row{parts: parts, number: number, times: make([]whole.Number, len(w.times))}
 	for i, times := range w.times {
 		switch {
 		case i == place:
@@ -162,7 +150,7 @@ func (w row) turned(place int) row {
 		case above:
 			times = whole.Negate(times)
 		}
-		made.times = append(made.times, times)
+		made.times[i] = times
 	}
 	return made
 }
@@ -170,15 +158,16 @@ func (w row) turned(place int) row {
 // replaced tells the same with what another row says of the number at a place, by the one that stands there now.
 func (w row) replaced(place int, other row) row {
 	often := at(w.times, place)
-	made := row{parts: whole.Multiply(w.parts, other.parts)}
+	made := row{parts: whole.Multiply(w.parts, other.parts), times: make([]whole.Number, len(w.times))}
 	made.number = mixed(w.number, other.parts, other.number, often)
 	for i, times := range w.times {
 		if i == place {
 			times = whole.Number{}
 		}
-		made.times = append(made.times, mixed(times, other.parts, at(other.times, i), often))
+		made.times[i] = mixed(times, other.parts, at(other.times, i), often)
 	}
-	return made.reduced()
+	made.reduce()
+	return made
 }
 
 // mixed is a so many times and b so many times.
@@ -188,27 +177,29 @@ func mixed(a whole.Number, often whole.Number, b whole.Number, oftenToo whole.Nu
 	return whole.Add(first, second)
 }
 
-// reduced divides a row by what divides all of it.
-func (w row) reduced() row {
+// reduce divides a row that was just made by what divides all of it.
+func (w *row) reduce() {
 	one := whole.From(1)
 	divisor := whole.CommonDivisor(w.parts, w.number)
 	for i := 0; i < len(w.times) && whole.Compare(divisor, one) != 0; i++ {
 		divisor = whole.CommonDivisor(divisor, w.times[i])
 	}
 	if whole.Compare(divisor, one) <= 0 {
-		return w
+		return
 	}
-	made := row{parts: whole.DivideUp(w.parts, divisor), number: whole.DivideUp(w.number, divisor)}
-	for _, times := range w.times {
-		made.times = append(made.times, whole.DivideUp(times, divisor))
+	w.parts = whole.DivideUp(w.parts, divisor)
+	w.number = whole.DivideUp(w.number, divisor)
+	for i, times := range w.times {
+		w.times[i] = whole.DivideUp(times, divisor)
 	}
-	return made
 }
 
-// at is the number at a place; 0 where there is none.
-func at(list []whole.Number, i int) whole.Number {
-	if i < 0 || i >= len(list) {
-		return whole.Number{}
+// multiples tells how often to take each form, so that they come to a number above 0, by a row whose rest is below 0 whatever the others are.
+func (t *tableau) multiples(r int) []whole.Number {
+	list := make([]whole.Number, t.rests)
+	put(list, t.told[r]-t.unknowns, t.rows[r].parts)
+	for place, times := range t.rows[r].times {
+		put(list, t.by[place]-t.unknowns, whole.Negate(times))
 	}
-	return list[i]
+	return list
 }

@@ -5,40 +5,26 @@ import (
 	"strconv"
 )
 
-// node is a piece of a tree: a split of a term at a bound, or an end, at which each sum so many times comes to a number above 0.
+// The kinds of nodes.
+const (
+	isEnd = iota
+	isSplit
+	isCut
+)
+
+// node is a piece of a tree: a split of a term at a bound; a cut: each form so many times, rounded; or an end, at which each form so many times comes to a number above 0.
 type node struct {
-	split bool
+	kind  int
 	term  int
 	bound whole.Number
-	times []whole.Number // by sum: those given, rounded where that says more, and behind them those of the splits that are at hand
-}
-
-// multiples tells how often to take each sum, so that they come to a number above 0, by a row whose rest is below 0 whatever the others are.
-func (t *tableau) multiples(r int) []whole.Number {
-	list := make([]whole.Number, len(t.rows))
-	put(list, t.told[r]-t.unknowns, t.rows[r].parts)
-	for place, times := range t.rows[r].times {
-		put(list, t.by[place]-t.unknowns, whole.Negate(times))
-	}
-	return list
-}
-
-// put puts a number at a place, if there is such a place.
-func put(list []whole.Number, i int, n whole.Number) {
-	if i >= 0 && i < len(list) {
-		list[i] = n
-	}
+	times []whole.Number // by form: those given, rounded where that says more, and behind them those of the splits and cuts that are at hand
 }
 
 // Used tells of each sum that was given whether the tree needs it.
 func (o Outcome) Used() []bool {
 	used := make([]bool, len(o.cut))
 	for _, n := range o.nodes {
-		for i, times := range n.times {
-			if i < len(used) && whole.Sign(times) != 0 {
-				used[i] = true
-			}
-		}
+		markTaken(used, n.times)
 	}
 	return used
 }
@@ -50,7 +36,7 @@ func (o Outcome) Tree() string {
 	cuts := 0
 	for i, cut := range o.cut {
 		if cut && used[i] {
-			text = append(text, o.cutText(used, i, cuts)...)
+			text = append(text, roundText(used, i, cuts)...)
 			cuts++
 		}
 	}
@@ -58,17 +44,24 @@ func (o Outcome) Tree() string {
 		if i > 0 {
 			text = append(text, ' ')
 		}
-		if n.split {
-			text = append(text, "s "+strconv.Itoa(n.term)+" "+n.bound.Text()...)
-			continue
-		}
-		text = append(text, o.endText(used, n.times)...)
+		text = append(text, o.nodeText(used, n)...)
 	}
 	return string(text)
 }
 
-// cutText tells that one sum is rounded, behind so many others.
-func (o Outcome) cutText(used []bool, one int, others int) string {
+// nodeText tells a node.
+func (o Outcome) nodeText(used []bool, n node) string {
+	switch n.kind {
+	case isSplit:
+		return "s " + strconv.Itoa(n.term) + " " + n.bound.Text()
+	case isCut:
+		return "c" + o.timesText(used, n.times)
+	}
+	return "f" + o.timesText(used, n.times)
+}
+
+// roundText tells that one sum is rounded, behind so many others.
+func roundText(used []bool, one int, others int) string {
 	text := "c"
 	for i := range used {
 		if i == one {
@@ -83,21 +76,23 @@ func (o Outcome) cutText(used []bool, one int, others int) string {
 	return text + "; "
 }
 
-// endText tells how often each sum is taken: of those that were rounded, not as they were given.
-func (o Outcome) endText(used []bool, times []whole.Number) string {
-	given := "f"
-	cuts := ""
-	splits := ""
+// timesText tells how often each sum is taken: of those that were rounded, not as they were given.
+func (o Outcome) timesText(used []bool, times []whole.Number) string {
+	var given []byte
+	var rounded []byte
+	var behind []byte
 	for i, n := range times {
 		switch {
 		case i >= len(used):
-			splits += " " + n.Text()
+			behind = append(behind, " "+n.Text()...)
 		case used[i] && o.cut[i]:
-			given += " 0"
-			cuts += " " + n.Text()
+			given = append(given, " 0"...)
+			rounded = append(rounded, " "+n.Text()...)
 		case used[i]:
-			given += " " + n.Text()
+			given = append(given, " "+n.Text()...)
 		}
 	}
-	return given + cuts + splits + ";"
+	given = append(given, rounded...)
+	given = append(given, behind...)
+	return string(given) + ";"
 }

@@ -76,13 +76,12 @@ func (s *search) count() int {
 	if s.budget >= 0 {
 		most = s.budget - s.spent
 	}
-	out := linear.Solve(s.columns, list, most)
-	s.spent += out.Splits
+	out := linear.Solve(s.columns, list, most, s.narrow)
+	s.spent += out.Spent
 	if out.Closed {
 		return s.sayTree(codes, out)
 	}
 	s.values = out.Values
-	s.lost = out.TooDeep
 	return -1
 }
 

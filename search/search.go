@@ -6,6 +6,7 @@ package search
 import (
 	"reason/api"
 	"reason/atoms"
+	"reason/bounds"
 	"reason/model"
 	"reason/stack"
 	"reason/sums"
@@ -27,6 +28,7 @@ type search struct {
 	st      *stack.Stack
 	terms   []sums.Sum     // the stack's terms, taken apart
 	columns []int          // the terms of Int that stand for themselves: first the symbols
+	narrow  bool           // the stack is bounded: so splits of the symbols come to an end
 	values  []whole.Number // by column, when numbers are found that fit what is so
 	found   []api.Entry    // a model, when it is found
 	things  []thing
@@ -45,7 +47,7 @@ type search struct {
 
 // Check looks with a budget; with one below 0 it spends as much as it takes, which comes to an end if the stack is bounded.
 func Check(st *stack.Stack, budget int) api.Reply {
-	s := search{st: st, terms: sums.OfTerms(st), wrong: -1, budget: budget}
+	s := search{st: st, terms: sums.OfTerms(st), narrow: bounds.Bounded(st), wrong: -1, budget: budget}
 	s.places = make([]int, atoms.Places(len(st.Terms)))
 	s.begin()
 	verdict := api.None

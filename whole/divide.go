@@ -1,16 +1,24 @@
 package whole
 
 // Sign is below 0, 0 or above 0, as a number is.
-func Sign(a Number) int { return Compare(a, Number{}) }
+func Sign(a Number) int { return compare64(a.value, 0) }
 
 // DivideUp is the quotient of a number by one above 0, rounded up; of any other divisor 0.
 func DivideUp(a Number, b Number) Number {
-	if Sign(b) <= 0 {
+	if b.value <= 0 {
 		return Number{}
 	}
-	limbs, rest := divideLimbs(a.limbs, b.limbs)
-	quotient := made(a.below, limbs)
-	if a.below || len(rest) == 0 {
+	below := a.value < 0
+	if isNear(a) && isNear(b) {
+		quotient := a.value / b.value
+		if !below && a.value%b.value != 0 {
+			quotient++
+		}
+		return of64(quotient)
+	}
+	limbs, rest := divideLimbs(limbsOf(a), limbsOf(b))
+	quotient := made(below, limbs)
+	if below || len(rest) == 0 {
 		// Of a number below 0 the digits ahead of the point alone are rounded up already.
 		return quotient
 	}
@@ -19,14 +27,30 @@ func DivideUp(a Number, b Number) Number {
 
 // CommonDivisor is the greatest number that divides both, without a sign; of 0 and a number that number.
 func CommonDivisor(a Number, b Number) Number {
-	divided := a.limbs
-	by := b.limbs
+	if isNear(a) && isNear(b) {
+		return Number{value: commonDivisor64(a.value, b.value)}
+	}
+	divided := limbsOf(a)
+	by := limbsOf(b)
 	for len(by) > 0 {
 		_, rest := divideLimbs(divided, by)
 		divided = by
 		by = rest
 	}
 	return made(false, divided)
+}
+
+// commonDivisor64 is CommonDivisor of two of 64 bits, both nearer to 0 than near.
+func commonDivisor64(a int64, b int64) int64 {
+	for b != 0 {
+		rest := a % b
+		a = b
+		b = rest
+	}
+	if a < 0 {
+		return -a
+	}
+	return a
 }
 
 // divideLimbs tells the quotient of limbs and what is left, which has no noughts behind. By nothing: no quotient.
@@ -40,13 +64,14 @@ func divideLimbs(a []int64, b []int64) ([]int64, []int64) {
 	// With a divisor whose last limb is half the base or more, a guess from the last limbs is at most two too great.
 	scale := base / (b[len(b)-1] + 1)
 	left := timesLimb(a, scale)
-	by := made(false, timesLimb(b, scale)).limbs
+	by := timesLimb(b, scale)
+	by = by[:trimmed(by)]
 	quotient := make([]int64, len(a)-len(b)+1)
 	for i := len(quotient) - 1; i >= 0; i-- {
 		quotient[i] = takeOften(left, by, i)
 	}
 	rest, _ := divideByLimb(left, scale)
-	return quotient, made(false, rest).limbs
+	return quotient, rest[:trimmed(rest)]
 }
 
 // timesLimb multiplies limbs by a limb; the product has one limb more.
@@ -74,7 +99,8 @@ func divideByLimb(a []int64, n int64) ([]int64, []int64) {
 		rest %= n
 	}
 	// The rest of limbs that are all divided is one limb.
-	return quotient, made(false, []int64{rest}).limbs
+	one := []int64{rest}
+	return quotient, one[:trimmed(one)]
 }
 
 // takeOften takes b away from a's limbs from a place on, as often as it goes, and tells how often: less than the base.

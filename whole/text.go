@@ -1,6 +1,9 @@
 package whole
 
-import "reason/lists"
+import (
+	"reason/lists"
+	"strconv"
+)
 
 // Canonical tells whether a text is a numeral as it is written: digits with no nought ahead but of `0` itself, `-` ahead of one below 0, and no `-0`.
 func Canonical(text string) bool {
@@ -55,8 +58,8 @@ func limbOf(text string, from int, end int) int64 {
 
 // Text is a number's canonical numeral.
 func (a Number) Text() string {
-	if len(a.limbs) == 0 {
-		return "0"
+	if isNear(a) {
+		return strconv.FormatInt(a.value, 10)
 	}
 	// The digits are laid down from the last to the first, with noughts ahead up to a whole limb, and then turned round.
 	var turned []byte
@@ -71,7 +74,7 @@ func (a Number) Text() string {
 		last--
 	}
 	var text []byte
-	if a.below {
+	if a.value < 0 {
 		text = append(text, '-')
 	}
 	for i := last - 1; i >= 0; i-- {

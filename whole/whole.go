@@ -5,57 +5,103 @@ package whole
 const (
 	width = 9
 	base  = 1000000000
+	near  = base * base // numbers nearer to 0 are kept without limbs
 )
 
-// Number is a whole number, at its zero value 0. Its limbs stand with the least first, and the last of them is not 0. Nothing changes the limbs of a number that is made: so numbers may share them.
+// Number is a whole number, at its zero value 0. One nearer to 0 than near has no limbs: most are, and so cost no room of their own. Any other has limbs, with the least first, the last of them not 0; its value tells its sign alone. Nothing changes the limbs of a number that is made: so numbers may share them.
 type Number struct {
-	below bool
+	value int64
 	limbs []int64
 }
 
 // made is the number of that sign and of these limbs, which may have noughts behind.
 func made(below bool, limbs []int64) Number {
+	n := trimmed(limbs)
+	value := int64(1)
+	if n <= 2 {
+		value = limbAt(limbs, 1)*base + limbAt(limbs, 0)
+		limbs = nil
+		n = 0
+	}
+	if below {
+		value = -value
+	}
+	return Number{value: value, limbs: limbs[:n]}
+}
+
+// trimmed counts limbs without the noughts behind.
+func trimmed(limbs []int64) int {
 	n := len(limbs)
 	for n > 0 && limbs[n-1] == 0 {
 		n--
 	}
-	if n == 0 {
-		return Number{}
-	}
-	return Number{below: below, limbs: limbs[:n]}
+	return n
 }
 
-// From is the number of an int.
-func From(n int) Number {
+// of64 is the number of an int64.
+func of64(n int64) Number {
+	if n > -near && n < near {
+		return Number{value: n}
+	}
+	return made(n < 0, limbsOf64(n))
+}
+
+// limbsOf64 are the limbs of an int64, without its sign.
+func limbsOf64(n int64) []int64 {
 	var limbs []int64
-	rest := int64(n)
-	for rest != 0 {
-		// Limb by limb, for the least int has no opposite.
-		limb := rest % base
+	for n != 0 {
+		// Limb by limb, for the least int64 has no opposite.
+		limb := n % base
 		if limb < 0 {
 			limb = -limb
 		}
 		limbs = append(limbs, limb)
-		rest /= base
+		n /= base
 	}
-	return made(n < 0, limbs)
+	return limbs
 }
 
+// isNear tells whether a number has no limbs.
+func isNear(a Number) bool { return len(a.limbs) == 0 }
+
+// limbsOf are a number's limbs, without its sign.
+func limbsOf(a Number) []int64 {
+	if isNear(a) {
+		return limbsOf64(a.value)
+	}
+	return a.limbs
+}
+
+// From is the number of an int.
+func From(n int) Number { return of64(int64(n)) }
+
 // Negate is the opposite of a number.
-func Negate(a Number) Number { return made(!a.below, a.limbs) }
+func Negate(a Number) Number { return Number{value: -a.value, limbs: a.limbs} }
 
 // Compare is below 0, 0 or above 0, as the first number is below the second, equal to it or above it.
 func Compare(a Number, b Number) int {
-	if a.below != b.below {
-		if a.below {
-			return -1
-		}
+	if isNear(a) && isNear(b) {
+		return compare64(a.value, b.value)
+	}
+	below := a.value < 0
+	if below != (b.value < 0) {
+		return compare64(a.value, b.value)
+	}
+	if below {
+		return compareLimbs(limbsOf(b), limbsOf(a))
+	}
+	return compareLimbs(limbsOf(a), limbsOf(b))
+}
+
+// compare64 is Compare of two of 64 bits.
+func compare64(a int64, b int64) int {
+	if a < b {
+		return -1
+	}
+	if a > b {
 		return 1
 	}
-	if a.below {
-		return compareLimbs(b.limbs, a.limbs)
-	}
-	return compareLimbs(a.limbs, b.limbs)
+	return 0
 }
 
 // compareLimbs is Compare of limbs without noughts behind.
@@ -64,11 +110,8 @@ func compareLimbs(a []int64, b []int64) int {
 		return len(a) - len(b)
 	}
 	for i := len(a) - 1; i >= 0; i-- {
-		if a[i] < b[i] {
-			return -1
-		}
-		if a[i] > b[i] {
-			return 1
+		if a[i] != b[i] {
+			return compare64(a[i], b[i])
 		}
 	}
 	return 0
@@ -76,13 +119,19 @@ func compareLimbs(a []int64, b []int64) int {
 
 // Add is the sum of two numbers.
 func Add(a Number, b Number) Number {
-	if a.below == b.below {
-		return made(a.below, addLimbs(a.limbs, b.limbs))
+	if isNear(a) && isNear(b) {
+		return of64(a.value + b.value)
 	}
-	if compareLimbs(a.limbs, b.limbs) >= 0 {
-		return made(a.below, lessLimbs(a.limbs, b.limbs))
+	first := limbsOf(a)
+	second := limbsOf(b)
+	below := a.value < 0
+	if below == (b.value < 0) {
+		return made(below, addLimbs(first, second))
 	}
-	return made(b.below, lessLimbs(b.limbs, a.limbs))
+	if compareLimbs(first, second) >= 0 {
+		return made(below, lessLimbs(first, second))
+	}
+	return made(!below, lessLimbs(second, first))
 }
 
 // addLimbs adds limbs.
@@ -115,17 +164,28 @@ func lessLimbs(a []int64, b []int64) []int64 {
 
 // Multiply is the product of two numbers.
 func Multiply(a Number, b Number) Number {
-	product := make([]int64, len(a.limbs)+len(b.limbs))
-	for i, limb := range a.limbs {
+	if isLimb(a) && isLimb(b) {
+		return of64(a.value * b.value)
+	}
+	return made((a.value < 0) != (b.value < 0), multiplyLimbs(limbsOf(a), limbsOf(b)))
+}
+
+// isLimb tells whether a number without its sign is one limb: the product of two such fits in 64 bits.
+func isLimb(a Number) bool { return isNear(a) && a.value > -base && a.value < base }
+
+// multiplyLimbs multiplies limbs.
+func multiplyLimbs(a []int64, b []int64) []int64 {
+	product := make([]int64, len(a)+len(b))
+	for i, limb := range a {
 		var carry int64
 		// One limb behind those of b takes what is carried.
-		for j := i; j <= i+len(b.limbs) && j < len(product); j++ {
-			carry += product[j] + limb*limbAt(b.limbs, j-i)
+		for j := i; j <= i+len(b) && j < len(product); j++ {
+			carry += product[j] + limb*limbAt(b, j-i)
 			product[j] = carry % base
 			carry /= base
 		}
 	}
-	return made(a.below != b.below, product)
+	return product
 }
 
 // limbAt is the limb at a place; 0 where there is none.
