@@ -10,38 +10,44 @@ import (
 	"strconv"
 )
 
-// order takes in what is always so of numbers: how equal and at most hang together, and which of two that have no unknown is the greater.
+// order takes in what is always so of the numbers of which atoms speak that were not looked at yet.
 func (s *search) order() {
-	s.columns = columnsOf(s.st)
-	s.orderPairs()
-	for i := range s.things {
-		l := atoms.Literal{Atom: s.things[i].atom}
-		if l.Atom.Kind != atoms.IsAtMost {
-			continue
+	for s.ordered < len(s.things) {
+		// Atoms that are named on the way are looked at as well; there are but so many of them.
+		i := s.ordered
+		s.ordered++
+		switch s.things[i].atom.Kind {
+		case atoms.AreEqual:
+			s.orderEqual(i)
+		case atoms.IsAtMost:
+			s.orderAtMost(i)
 		}
-		sum := s.sumOf(l)
-		if len(sum.Parts) > 0 {
-			continue
-		}
-		l.Not = whole.Sign(sum.Number) > 0
-		s.say(line{ready: "A " + l.Text() + " | f 1;", literals: []int{atoms.Code(i, l.Not)}})
 	}
 }
 
-// orderPairs takes in, of each two numbers of which it counts whether they are equal, that they are just if each is at most the other, and that one is.
-func (s *search) orderPairs() {
-	for i := 0; i < len(s.things); i++ {
-		a := s.things[i].atom
-		if a.Kind != atoms.AreEqual || s.st.Term(a.A).Sort != api.Int {
-			continue
-		}
-		less := s.is(atoms.AtMost(a.A, a.B))
-		more := s.is(atoms.AtMost(a.B, a.A))
-		head := "Q " + strconv.Itoa(a.A) + " " + strconv.Itoa(a.B)
-		s.all(head, atoms.Code(i, false), []int{less, more})
-		ready := "A " + s.literal(less).Text() + " " + s.literal(more).Text() + " | f 1 1;"
-		s.say(line{ready: ready, literals: []int{less, more}})
+// orderEqual takes in of two numbers that they are equal just if each is at most the other, and that one is.
+func (s *search) orderEqual(i int) {
+	a := s.things[i].atom
+	if s.st.Term(a.A).Sort != api.Int {
+		return
 	}
+	less := s.is(atoms.AtMost(a.A, a.B))
+	more := s.is(atoms.AtMost(a.B, a.A))
+	head := "Q " + strconv.Itoa(a.A) + " " + strconv.Itoa(a.B)
+	s.all(head, atoms.Code(i, false), []int{less, more})
+	ready := "A " + s.literal(less).Text() + " " + s.literal(more).Text() + " | f 1 1;"
+	s.say(line{ready: ready, literals: []int{less, more}})
+}
+
+// orderAtMost takes in of two numbers that have no unknown which of them is the greater.
+func (s *search) orderAtMost(i int) {
+	l := atoms.Literal{Atom: s.things[i].atom}
+	sum := s.sumOf(l)
+	if len(sum.Parts) > 0 {
+		return
+	}
+	l.Not = whole.Sign(sum.Number) > 0
+	s.say(line{ready: "A " + l.Text() + " | f 1;", literals: []int{atoms.Code(i, l.Not)}})
 }
 
 // columnsOf tells the terms of Int that stand for themselves in sums, first those of symbols without arguments: where all these have whole values, in a stack that is bounded the others do too.

@@ -16,8 +16,8 @@ type reading struct {
 	entries  []api.Entry
 }
 
-// model tells a model: a value of each symbol without arguments, and of each other one for the arguments that are listed.
-func (s *search) model() []api.Entry {
+// read reads a model: a value of each symbol without arguments, and of each other one for the arguments that are listed.
+func (s *search) read() reading {
 	r := reading{s: s, classes: s.classes(), elements: make([]int, len(s.st.Terms))}
 	for number, t := range s.st.Terms {
 		if t.Op == stack.Apply {
@@ -29,7 +29,7 @@ func (s *search) model() []api.Entry {
 			r.entries = append(r.entries, api.Entry{Sym: sym, Val: "0"})
 		}
 	}
-	return r.entries
+	return r
 }
 
 // enter takes in the value of a term of a symbol.

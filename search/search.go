@@ -39,6 +39,8 @@ type search struct {
 	guesses []int   // how long the trail was at each guess
 	done    int     // of so many of the trail it was looked at what follows
 	wrong   int     // a line that contradicts what is so without a guess; -1, as long as there is none
+	late    []int   // lines that contradicted what was so when they were taken in, and are to be looked at again
+	ordered int     // of so many things it was taken in how their numbers hang together
 	lessons int     // contradictions that were learned from
 	budget  int     // what may be spent; below 0: as much as it costs
 	spent   int
@@ -71,6 +73,7 @@ func (s *search) isPoor() bool { return s.budget >= 0 && s.spent > s.budget }
 
 // begin takes in what the terms and the assertions say.
 func (s *search) begin() {
+	s.columns = columnsOf(s.st)
 	for number := range s.st.Terms {
 		s.define(number)
 	}
@@ -102,21 +105,30 @@ func (s *search) step() api.Verdict {
 	return api.None
 }
 
-// find tells a model, if all is told and numbers are found. Numbers that symbols take may be equal in it though it was not asked whether they are: where it does not hold, the search is lost.
+// find tells a model, if all is told and numbers are found. Numbers that symbols take may be equal in it though it was not asked whether they are: where it does not hold, that is asked.
 func (s *search) find() api.Verdict {
-	if s.lost || s.isPoor() {
+	if s.isPoor() {
 		return api.None
 	}
-	s.found = s.model()
-	holds, _ := model.Holds(s.st, s.found)
-	s.lost = !holds
-	return api.Sat
+	r := s.read()
+	holds, _ := model.Holds(s.st, r.entries)
+	if holds {
+		s.found = r.entries
+		return api.Sat
+	}
+	s.spent++
+	some := s.combine(&r)
+	s.lost = !some
+	return api.None
 }
 
 // settle lets follow what follows from what is so, and tells a line that contradicts it; -1, if none does.
 func (s *search) settle() int {
 	for s.wrong < 0 {
-		bad := s.follow()
+		bad := s.review()
+		if bad < 0 {
+			bad = s.follow()
+		}
 		if bad >= 0 {
 			return bad
 		}

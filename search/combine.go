@@ -1,0 +1,82 @@
+package search
+
+import (
+	"reason/api"
+	"reason/atoms"
+	"reason/stack"
+)
+
+// combine takes in, of each two terms of one symbol whose arguments have the same values though they themselves have not, that they are equal where their arguments are. It tells whether that names atoms which were not named yet: then the search goes on with these.
+func (s *search) combine(r *reading) bool {
+	before := len(s.things)
+	for i, t := range s.st.Terms {
+		if t.Op != stack.Apply || len(t.Args) == 0 {
+			continue
+		}
+		for j := 0; j < i; j++ {
+			if r.isTorn(i, j) {
+				s.join(i, j)
+			}
+		}
+	}
+	s.order()
+	return len(s.things) > before
+}
+
+// isTorn tells whether two terms have one symbol and arguments of the same values, but not the same value themselves. The first is of a symbol.
+func (r *reading) isTorn(i int, j int) bool {
+	t := r.s.st.Term(i)
+	other := r.s.st.Term(j)
+	if other.Op != stack.Apply || t.Sym != other.Sym {
+		return false
+	}
+	for k := range t.Args {
+		if !r.isSame(t.Arg(k), other.Arg(k)) {
+			return false
+		}
+	}
+	return !r.isSame(i, j)
+}
+
+// isSame tells whether two terms have the same value.
+func (r *reading) isSame(a int, b int) bool {
+	if a == b {
+		return true
+	}
+	one := r.value(a)
+	other := r.value(b)
+	return one == other
+}
+
+// join takes in that two terms of one symbol are equal, or both true or both not, where their arguments are equal.
+func (s *search) join(i int, j int) {
+	t := s.st.Term(i)
+	other := s.st.Term(j)
+	var apart []int
+	for k := range t.Args {
+		a := t.Arg(k)
+		b := other.Arg(k)
+		if a != b {
+			equal := s.is(atoms.Equality(a, b))
+			apart = append(apart, atoms.Opposite(equal))
+		}
+	}
+	if t.Sort != api.Bool {
+		equal := s.is(atoms.Equality(i, j))
+		s.sayWith("U", apart, equal, equal)
+		return
+	}
+	one := s.is(atoms.Truth(i))
+	two := s.is(atoms.Truth(j))
+	s.sayWith("U", apart, one, atoms.Opposite(two))
+	s.sayWith("U", apart, atoms.Opposite(one), two)
+}
+
+// sayWith takes in a line with literals of a list and two more.
+func (s *search) sayWith(head string, list []int, one int, two int) {
+	var literals []int
+	literals = append(literals, list...)
+	literals = append(literals, one)
+	literals = append(literals, two)
+	s.say(line{head: head, literals: literals})
+}
