@@ -22,7 +22,26 @@ func (s *search) order() {
 		case atoms.IsAtMost:
 			s.orderAtMost(i)
 		}
+		s.sides = append(s.sides, s.sideOf(atoms.Code(i, false)))
+		s.sides = append(s.sides, s.sideOf(atoms.Code(i, true)))
 	}
+}
+
+// sideOf is the limit that a literal of two numbers sets if it is so; of any other literal none.
+func (s *search) sideOf(code int) linear.Side {
+	l := s.literal(code)
+	if l.Atom.Kind != atoms.IsAtMost {
+		return linear.Side{}
+	}
+	return s.kept.Side(s.sumOf(l))
+}
+
+// side is the limit of a literal, as it is kept.
+func (s *search) side(code int) linear.Side {
+	if code < 0 || code >= len(s.sides) {
+		return linear.Side{}
+	}
+	return s.sides[code]
 }
 
 // orderEqual takes in of two numbers that they are equal just if each is at most the other, and that one is.
@@ -67,28 +86,52 @@ func columnsOf(st *stack.Stack) []int {
 	return append(symbols, others...)
 }
 
-// count looks for whole numbers that fit what is so, and tells a line that contradicts it; -1, if there is none: then the numbers are found, or too much is spent, or the search is lost.
-func (s *search) count() int {
-	var codes []int
-	var list []sums.Sum
+// measure looks whether numbers, be they whole or not, fit what is so, and tells a line that contradicts it; -1, if they do.
+func (s *search) measure() int {
+	s.kept.Clear()
 	for _, code := range s.trail {
-		l := s.literal(code)
-		if l.Atom.Kind == atoms.IsAtMost {
+		s.kept.Set(s.side(code), code)
+	}
+	marks := s.kept.Look()
+	if len(marks) == 0 {
+		return -1
+	}
+	out := linear.Solve(s.columns, s.sumsOf(marks), 0, s.narrow)
+	return s.sayTree(marks, out)
+}
+
+// count looks for whole numbers that fit what is so, and tells a line that contradicts it; -1, if there is none: then the numbers are found, or too much is spent.
+func (s *search) count() int {
+	s.values = s.kept.Whole()
+	if s.values != nil {
+		return -1
+	}
+	var codes []int
+	for _, code := range s.trail {
+		if s.literal(code).Atom.Kind == atoms.IsAtMost {
 			codes = append(codes, code)
-			list = append(list, s.sumOf(l))
 		}
 	}
 	most := -1
 	if s.budget >= 0 {
 		most = s.budget - s.spent
 	}
-	out := linear.Solve(s.columns, list, most, s.narrow)
+	out := linear.Solve(s.columns, s.sumsOf(codes), most, s.narrow)
 	s.spent += out.Spent
 	if out.Closed {
 		return s.sayTree(codes, out)
 	}
 	s.values = out.Values
 	return -1
+}
+
+// sumsOf are the sums that are at most 0, if literals of numbers are so.
+func (s *search) sumsOf(codes []int) []sums.Sum {
+	var list []sums.Sum
+	for _, code := range codes {
+		list = append(list, s.sumOf(s.literal(code)))
+	}
+	return list
 }
 
 // sumOf is the sum that is at most 0, if a literal of two numbers is so.

@@ -7,6 +7,7 @@ import (
 	"reason/api"
 	"reason/atoms"
 	"reason/bounds"
+	"reason/linear"
 	"reason/model"
 	"reason/stack"
 	"reason/sums"
@@ -29,6 +30,8 @@ type search struct {
 	terms   []sums.Sum     // the stack's terms, taken apart
 	columns []int          // the terms of Int that stand for themselves: first the symbols
 	narrow  bool           // the stack is bounded: so splits of the symbols come to an end
+	kept    linear.Kept    // the numbers that fit what is so, whole or not
+	sides   []linear.Side  // by literal: the limit that it sets
 	values  []whole.Number // by column, when numbers are found that fit what is so
 	found   []api.Entry    // a model, when it is found
 	things  []thing
@@ -74,6 +77,7 @@ func (s *search) isPoor() bool { return s.budget >= 0 && s.spent > s.budget }
 // begin takes in what the terms and the assertions say.
 func (s *search) begin() {
 	s.columns = columnsOf(s.st)
+	s.kept = linear.NewKept(s.columns)
 	for number := range s.st.Terms {
 		s.define(number)
 	}
@@ -86,6 +90,9 @@ func (s *search) begin() {
 // step goes on up to the next guess, lesson or verdict. A guess costs 1, and so do a lesson and a split of numbers.
 func (s *search) step() api.Verdict {
 	bad := s.settle()
+	if bad < 0 {
+		bad = s.measure()
+	}
 	if bad < 0 {
 		open := s.pick()
 		if open >= 0 {
