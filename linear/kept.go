@@ -111,6 +111,20 @@ func (k *Kept) Set(s Side, mark int) {
 	}
 }
 
+// Marks tells the marks of all limits that are set.
+func (k *Kept) Marks() []int {
+	var list []int
+	for i := range k.lower {
+		if k.lower[i].is {
+			list = append(list, k.lower[i].mark)
+		}
+		if k.upper[i].is {
+			list = append(list, k.upper[i].mark)
+		}
+	}
+	return list
+}
+
 // Look looks for values within all limits. If there are none, it tells the marks of limits that contradict each other.
 func (k *Kept) Look() []int {
 	for i := range k.lower {

@@ -6,7 +6,7 @@ import "reason/whole"
 func (p *facing) close(level int, held []hold) (mix, bool) {
 	top := -1 // the last cut that says how great the direction can be
 	for !p.isPoor() {
-		now := added1(held, top)
+		now := heldWith(held, top)
 		t := p.tableau(now)
 		r := t.settle()
 		if r >= 0 {
@@ -25,8 +25,8 @@ func (p *facing) close(level int, held []hold) (mix, bool) {
 	return mix{}, false
 }
 
-// added1 is a list of holds with one more, if there is one.
-func added1(held []hold, place int) []hold {
+// heldWith is a list of holds with one form more, if there is such.
+func heldWith(held []hold, place int) []hold {
 	var made []hold
 	made = append(made, held...)
 	if place >= 0 {
@@ -37,6 +37,7 @@ func added1(held []hold, place int) []hold {
 
 // face looks at the face where the direction of a level has its greatest value. Where that is closed and the direction can be less, it tells the place of a cut that says that it is less; else -1, and what close tells.
 func (p *facing) face(level int, held []hold, now []hold, t *tableau) (mix, bool, int) {
+	p.spent++
 	direction := p.basis.directions[level]
 	most := t.raise(direction)
 	least := t.raise(negated(direction))
@@ -44,7 +45,7 @@ func (p *facing) face(level int, held []hold, now []hold, t *tableau) (mix, bool
 	p.at[level] = greatest
 	order := whole.Sign(whole.Add(greatest, least.down()))
 	above := p.bound(now, most)
-	inner := added1(held, above)
+	inner := heldWith(held, above)
 	if order > 0 {
 		inner = append(inner, hold{place: above, opposite: true})
 	} else {
@@ -71,14 +72,14 @@ func (h heights) down() whole.Number {
 func (p *facing) bound(now []hold, h heights) int {
 	times := make([]whole.Number, len(now))
 	for place, n := range h.top.times {
-		put(times, at1(h.by, place)-p.columns, whole.Negate(n))
+		put(times, numberAt(h.by, place)-p.columns, whole.Negate(n))
 	}
 	m := p.mixOf(now, times)
 	return p.cut(m, h.top.parts)
 }
 
-// at1 is the number at a place; -1 where there is none.
-func at1(list []int, i int) int {
+// numberAt is the number at a place; -1 where there is none.
+func numberAt(list []int, i int) int {
 	if i < 0 || i >= len(list) {
 		return -1
 	}

@@ -6,21 +6,39 @@ import (
 	"reason/stack"
 )
 
+// pair is two terms, by their numbers.
+type pair struct {
+	one   int
+	other int
+}
+
 // combine takes in, of each two terms of one symbol whose arguments have the same values though they themselves have not, that they are equal where their arguments are. It tells whether that names atoms which were not named yet: then the search goes on with these.
 func (s *search) combine(r *reading) bool {
+	pairs := r.torn()
 	before := len(s.things)
-	for i, t := range s.st.Terms {
+	// What is always so is taken in without a guess: else it would be forgotten when guesses are taken back.
+	s.takeBack(0)
+	for _, p := range pairs {
+		s.join(p.one, p.other)
+	}
+	s.order()
+	return len(s.things) > before
+}
+
+// torn tells all pairs of terms that are torn.
+func (r *reading) torn() []pair {
+	var list []pair
+	for i, t := range r.s.st.Terms {
 		if t.Op != stack.Apply || len(t.Args) == 0 {
 			continue
 		}
 		for j := 0; j < i; j++ {
 			if r.isTorn(i, j) {
-				s.join(i, j)
+				list = append(list, pair{one: i, other: j})
 			}
 		}
 	}
-	s.order()
-	return len(s.things) > before
+	return list
 }
 
 // isTorn tells whether two terms have one symbol and arguments of the same values, but not the same value themselves. The first is of a symbol.
@@ -63,20 +81,19 @@ func (s *search) join(i int, j int) {
 	}
 	if t.Sort != api.Bool {
 		equal := s.is(atoms.Equality(i, j))
-		s.sayWith("U", apart, equal, equal)
+		s.sayWhere(apart, []int{equal})
 		return
 	}
 	one := s.is(atoms.Truth(i))
 	two := s.is(atoms.Truth(j))
-	s.sayWith("U", apart, one, atoms.Opposite(two))
-	s.sayWith("U", apart, atoms.Opposite(one), two)
+	s.sayWhere(apart, []int{one, atoms.Opposite(two)})
+	s.sayWhere(apart, []int{atoms.Opposite(one), two})
 }
 
-// sayWith takes in a line with literals of a list and two more.
-func (s *search) sayWith(head string, list []int, one int, two int) {
+// sayWhere takes in a line U of two lists of literals.
+func (s *search) sayWhere(apart []int, then []int) {
 	var literals []int
-	literals = append(literals, list...)
-	literals = append(literals, one)
-	literals = append(literals, two)
-	s.say(line{head: head, literals: literals})
+	literals = append(literals, apart...)
+	literals = append(literals, then...)
+	s.say(line{head: "U", literals: literals})
 }

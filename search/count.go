@@ -22,8 +22,10 @@ func (s *search) order() {
 		case atoms.IsAtMost:
 			s.orderAtMost(i)
 		}
-		s.sides = append(s.sides, s.sideOf(atoms.Code(i, false)))
-		s.sides = append(s.sides, s.sideOf(atoms.Code(i, true)))
+		yes := s.sideOf(atoms.Code(i, false))
+		no := s.sideOf(atoms.Code(i, true))
+		s.sides = append(s.sides, yes)
+		s.sides = append(s.sides, no)
 	}
 }
 
@@ -106,12 +108,7 @@ func (s *search) count() int {
 	if s.values != nil {
 		return -1
 	}
-	var codes []int
-	for _, code := range s.trail {
-		if s.literal(code).Atom.Kind == atoms.IsAtMost {
-			codes = append(codes, code)
-		}
-	}
+	codes := s.kept.Marks()
 	most := -1
 	if s.budget >= 0 {
 		most = s.budget - s.spent

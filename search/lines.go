@@ -35,7 +35,6 @@ func (s *search) say(l line) int {
 	}
 	if len(left) == 0 || s.isOut(left[0]) {
 		s.blame(place)
-		s.late = append(s.late, place)
 		return place
 	}
 	if len(left) == 1 || s.isOut(left[1]) {
@@ -49,33 +48,6 @@ func (s *search) blame(place int) {
 	if len(s.guesses) == 0 && s.wrong < 0 {
 		s.wrong = place
 	}
-}
-
-// review looks again at lines that contradicted what was so, lets follow what follows from them now, and tells one that still contradicts it; -1, if none does.
-//
-// Such a line waits where it is told already that it cannot be so: no other would look at it again.
-func (s *search) review() int {
-	for len(s.late) > 0 {
-		last := len(s.late) - 1
-		place := s.late[last]
-		clause := s.lineAt(place).literals
-		open := -1
-		count := 0
-		for _, code := range clause {
-			if !s.isOut(code) {
-				open = code
-				count++
-			}
-		}
-		if count == 0 {
-			return place
-		}
-		s.late = s.late[:last]
-		if count == 1 {
-			s.let(open, place)
-		}
-	}
-	return -1
 }
 
 // once tells the literals of a clause, each once, and whether one and its opposite are among them.

@@ -42,7 +42,6 @@ type search struct {
 	guesses []int   // how long the trail was at each guess
 	done    int     // of so many of the trail it was looked at what follows
 	wrong   int     // a line that contradicts what is so without a guess; -1, as long as there is none
-	late    []int   // lines that contradicted what was so when they were taken in, and are to be looked at again
 	ordered int     // of so many things it was taken in how their numbers hang together
 	lessons int     // contradictions that were learned from
 	budget  int     // what may be spent; below 0: as much as it costs
@@ -132,10 +131,7 @@ func (s *search) find() api.Verdict {
 // settle lets follow what follows from what is so, and tells a line that contradicts it; -1, if none does.
 func (s *search) settle() int {
 	for s.wrong < 0 {
-		bad := s.review()
-		if bad < 0 {
-			bad = s.follow()
-		}
+		bad := s.follow()
 		if bad >= 0 {
 			return bad
 		}
@@ -162,12 +158,26 @@ func (s *search) pick() int {
 	return best
 }
 
-// guess lets a thing be as it was last.
+// guess lets a thing be as is likely.
 func (s *search) guess(i int) {
 	if i < 0 || i >= len(s.things) {
 		return
 	}
+	likely := s.isLikely(i)
 	s.guesses = append(s.guesses, len(s.trail))
-	code := atoms.Code(i, !s.things[i].so)
-	s.let(code, -1)
+	s.let(atoms.Code(i, !likely), -1)
+}
+
+// isLikely tells whether a thing fits the numbers that were found; if it speaks of none, whether it was so when it was told last.
+func (s *search) isLikely(i int) bool {
+	a := s.things[i].atom
+	switch {
+	case a.Kind == atoms.IsAtMost:
+		return s.kept.Fits(s.side(atoms.Code(i, false)))
+	case a.Kind == atoms.AreEqual && s.st.Term(a.A).Sort == api.Int:
+		less := s.is(atoms.AtMost(a.A, a.B))
+		more := s.is(atoms.AtMost(a.B, a.A))
+		return s.kept.Fits(s.side(less)) && s.kept.Fits(s.side(more))
+	}
+	return s.things[i].so
 }

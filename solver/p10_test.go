@@ -86,7 +86,8 @@ func wantVerdict(t *testing.T, s *solver.Session, want api.Verdict) {
 	}
 	wantBacked(t, s, r)
 	wantCost(t, s, r)
-	if d := s.Decide(); fmt.Sprint(d) != fmt.Sprint(r) {
+	d := s.Decide()
+	if s.Bounded() && fmt.Sprint(d) != fmt.Sprint(r) || !s.Bounded() && (d.E != api.ErrArg || !plain(d)) {
 		t.Errorf("P11: Decide says %v, a check %v of\n%s", d, r, s.Print())
 	}
 }
@@ -332,28 +333,6 @@ func TestCheckLevels(t *testing.T) {
 	wantVerdict(t, s, api.Sat)
 	do(t, s, step{"(assert false)", api.OK, 0}, step{"(reset)", api.OK, 0})
 	wantVerdict(t, s, api.Sat)
-}
-
-// TestCheckInt: P10 of stacks with Int: whatever the verdict is, it is backed, and comes just with the budgets that are enough.
-func TestCheckInt(t *testing.T) {
-	for _, c := range []string{
-		"(<= x y);(< y x)", "(= (* 2 x) (+ (* 2 y) 1))", "(< x y);(< y (+ x 1))", "(= x 5);(distinct (h x y) (h 5 y))", "(< x 0);(g x a)",
-		"(= (h x y) (h y x));(distinct x y)", "(= (+ x y) 7);(= (- x y) 2)", "(<= 3 x);(<= x 2)", "p;(not p)", "(= (* 99999999 x) (* 99999998 y));(< 0 x)",
-	} {
-		s := session(t, symbols...)
-		for _, term := range strings.Split(c, ";") {
-			do(t, s, step{"(assert " + term + ")", api.OK, 0})
-		}
-		r := check(t, s, api.MaxBudget)
-		if r.V == api.Unknown {
-			if r.Spent <= api.MaxBudget || r.Model != nil || r.Proof != "" {
-				t.Errorf("P10: Unknown with %+v", r)
-			}
-			continue
-		}
-		wantBacked(t, s, r)
-		wantCost(t, s, r)
-	}
 }
 
 // TestCheckRandom: P10 of many stacks; of those of truth values, and of numerals that hang on them, the verdict is compared with what Holds says of all models.
