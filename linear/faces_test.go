@@ -121,3 +121,40 @@ func TestWithoutBounds(t *testing.T) {
 		t.Errorf("too few of a kind: %v", counts)
 	}
 }
+
+// TestFaces: where terms can have many values each, and one more has no bound, values or a tree are found as well, within what may be spent.
+func TestFaces(t *testing.T) {
+	r := rand.New(rand.NewSource(7))
+	counts := [2]int{}
+	long := 0
+	for round := 0; round < 400; round++ {
+		columns := []int{0, 1, 2, 3}
+		var list []sums.Sum
+		for term := 0; term < 3; term++ {
+			times := [4]int{}
+			times[term] = 1
+			list = append(list, sum(-20-r.Intn(40), times[:]...))
+			times[term] = -1
+			list = append(list, sum(0, times[:]...))
+		}
+		for n := 1 + r.Intn(2); n > 0; n-- {
+			a, b, c, d := 20+r.Intn(80), 20+r.Intn(80), -20-r.Intn(80), r.Intn(2)*210
+			number := r.Intn(400) - 200
+			list = append(list, sum(number, a, b, c, d))
+			list = append(list, sum(-number-r.Intn(3), -a, -b, -c, -d))
+		}
+		out := linear.Solve(columns, list, 8192, false)
+		wantRight(t, list, out)
+		if out.Found {
+			counts[1]++
+		} else {
+			counts[0]++
+		}
+		if out.Spent > 50 {
+			long++
+		}
+	}
+	if counts[0] < 20 || counts[1] < 50 || long < 20 {
+		t.Errorf("too few of a kind: %v, %d long", counts, long)
+	}
+}

@@ -57,7 +57,6 @@ func (p *facing) face(level int, held []hold, now []hold, t *tableau) (mix, bool
 	if !closed || order <= 0 || whole.Sign(divisor) == 0 {
 		return m, closed, -1
 	}
-	put(m.opposites, above, whole.Number{})
 	again := p.cut(m, divisor)
 	return mix{}, false, again
 }
