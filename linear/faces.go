@@ -27,17 +27,17 @@ type facing struct {
 	basis   basis
 	ray     []whole.Number // a way out, along which forms fall that have no end
 	at      []whole.Number // by direction: the value on the face at hand
-	most    int            // how much may be spent; below 0: as much as it takes
+	most    int            // how much may be spent
 	spent   int
 	values  []whole.Number // by column, when they are found
 }
 
 // newFacing makes ready to look for whole values for forms, whose tableau is settled.
-func newFacing(columns int, list []form, t *tableau, most int) facing {
-	p := facing{columns: columns, given: len(list), most: most, ray: make([]whole.Number, columns)}
+func newFacing(list []form, t *tableau, most int) facing {
+	p := facing{columns: t.unknowns, given: len(list), most: most, ray: make([]whole.Number, t.unknowns)}
 	p.list = append(p.list, list...)
 	narrow := p.narrow(t)
-	p.basis = newBasis(columns, narrow)
+	p.basis = newBasis(p.columns, narrow)
 	p.at = make([]whole.Number, len(p.basis.directions))
 	return p
 }
@@ -94,7 +94,7 @@ func (p *facing) all() []hold {
 }
 
 // isPoor tells whether more was spent than there was to spend.
-func (p *facing) isPoor() bool { return p.most >= 0 && p.spent > p.most }
+func (p *facing) isPoor() bool { return p.spent > p.most }
 
 // tableau is a tableau of forms that are held.
 func (p *facing) tableau(held []hold) tableau {

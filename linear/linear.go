@@ -6,8 +6,8 @@ import (
 	"reason/whole"
 )
 
-// tries is how many splits of columns are made, before it is looked for values in another way: for where columns have no bound, splits may have no end.
-const tries = 16
+// first is how much is spent at first on splits of columns, before values are looked for in another way: for where columns have no bound, splits may have no end.
+const first = 16
 
 // Outcome is what was found out: values of the columns, a tree, or neither, if that would cost too much.
 type Outcome struct {
@@ -22,8 +22,9 @@ type Outcome struct {
 // solving is an outcome on its way.
 type solving struct {
 	columns []int
+	forms   []form
 	most    int // how much may be spent; below 0: as much as it takes
-	tries   int // how many splits may be made; below 0: as many as it takes
+	until   int // how much may be spent before it is tried in another way; below 0: as much as it takes
 	out     Outcome
 }
 
@@ -31,19 +32,16 @@ type solving struct {
 //
 // Where values are fractions, it splits the first column that has one. If the first columns are narrow (few, and each with a few values, so that with whole values of these the others are whole too), that has an end.
 func Solve(columns []int, list []sums.Sum, most int, narrow bool) Outcome {
-	p := solving{columns: columns, most: most, tries: tries}
-	if narrow {
-		p.tries = -1
+	p := solving{columns: columns, most: most, until: -1}
+	p.round(list)
+	t := newTableau(len(columns), p.forms)
+	r := t.settle()
+	if r >= 0 {
+		p.end(&t, r)
+		p.out.Closed = true
+	} else {
+		p.try(&t, narrow)
 	}
-	forms := p.rounded(list)
-	t := newTableau(len(columns), forms)
-	again := t.copied()
-	closed := p.close(&t)
-	if p.isAstray() {
-		closed = p.face(forms, &again)
-	}
-	p.out.Closed = closed && !p.isPoor()
-	p.out.Found = p.out.Found && !p.isPoor()
 	if !p.out.Found {
 		p.out.Values = nil
 	}
@@ -53,19 +51,35 @@ func Solve(columns []int, list []sums.Sum, most int, narrow bool) Outcome {
 	return p.out
 }
 
-// rounded tells sums over the columns, rounded where that says more.
-func (p *solving) rounded(list []sums.Sum) []form {
-	var forms []form
+// try looks for whole values, where there are values that need not be whole: by splits, and if these are not narrow by turns in another way, each time with more to spend than the last.
+func (p *solving) try(t *tableau, narrow bool) {
+	more := first
+	for !p.out.Found && !p.out.Closed && !p.isPoor() {
+		// The other way has an end: so this comes to one, when there is enough to spend.
+		if !narrow {
+			p.until = p.out.Spent + more
+		}
+		p.out.nodes = nil
+		p.out.Closed = p.split(t)
+		if !p.isOver() {
+			return
+		}
+		p.face(t, more)
+		more *= 4
+	}
+}
+
+// round takes in sums over the columns, rounded where that says more.
+func (p *solving) round(list []sums.Sum) {
 	for _, s := range list {
 		r := sums.Rounded(s)
 		cut := isNearer(s, r)
 		if !cut {
 			r = s
 		}
-		forms = append(forms, formOf(p.columns, r))
+		p.forms = append(p.forms, formOf(p.columns, r))
 		p.out.cut = append(p.out.cut, cut)
 	}
-	return forms
 }
 
 // isNearer tells whether a sum says more when it is rounded: if its number is not divided without rest.
@@ -82,23 +96,35 @@ func isNearer(s sums.Sum, rounded sums.Sum) bool {
 // isPoor tells whether more was spent than there was to spend.
 func (p *solving) isPoor() bool { return p.most >= 0 && p.out.Spent > p.most }
 
-// isAstray tells whether more splits were made than were to be tried.
-func (p *solving) isAstray() bool { return p.tries >= 0 && p.out.Spent > p.tries && !p.isPoor() }
+// isOver tells whether more was spent than there was to spend before it is tried in another way.
+func (p *solving) isOver() bool {
+	return p.isPoor() || p.until >= 0 && p.out.Spent > p.until
+}
 
-// close tells whether there are no values for the forms of a tableau; the tree grows by why. Each split within another takes values away from a column: so where columns are narrow, this comes to an end.
+// close tells whether there are no whole values for the forms of a tableau; the tree grows by why.
 func (p *solving) close(t *tableau) bool {
 	r := t.settle()
 	if r >= 0 {
-		p.out.nodes = append(p.out.nodes, node{times: t.multiples(r)})
+		p.end(t, r)
 		return true
 	}
+	return p.split(t)
+}
+
+// end ends a branch of the tree at a row whose rest is below 0 whatever the others are.
+func (p *solving) end(t *tableau, r int) {
+	p.out.nodes = append(p.out.nodes, node{times: t.multiples(r)})
+}
+
+// split tells whether there are no whole values for the forms of a tableau that is settled. Each split within another takes values away from a column: so where columns are narrow, this comes to an end.
+func (p *solving) split(t *tableau) bool {
 	unknown, bound := p.broken(t)
 	if unknown < 0 {
 		p.out.Found = true
 		return false
 	}
 	p.out.Spent++
-	if p.isPoor() || p.isAstray() {
+	if p.isOver() {
 		return false
 	}
 	p.out.nodes = append(p.out.nodes, node{kind: isSplit, term: p.columns[unknown], bound: bound})
@@ -132,18 +158,22 @@ func (p *solving) broken(t *tableau) (int, whole.Number) {
 	return first, bound
 }
 
-// face looks for values in another way than by splits, and tells whether there are none.
-func (p *solving) face(forms []form, t *tableau) bool {
-	t.settle()
-	most := -1
+// face looks for whole values in another way than by splits, with so much to spend.
+func (p *solving) face(t *tableau, most int) {
 	if p.most >= 0 {
-		most = p.most - p.out.Spent
+		most = min(most, p.most-p.out.Spent)
 	}
-	f := newFacing(len(p.columns), forms, t, most)
+	if most < 0 {
+		return
+	}
+	f := newFacing(p.forms, t, most)
 	m, closed := f.close(0, f.all())
 	p.out.Spent += f.spent
-	p.out.Found = !closed && f.values != nil
+	if f.isPoor() {
+		return
+	}
+	p.out.Found = !closed
+	p.out.Closed = closed
 	p.out.Values = f.values
 	p.out.nodes = f.nodes(m)
-	return closed
 }

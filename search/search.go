@@ -1,6 +1,8 @@
 // Package search finds out whether all that is asserted can be true, with a model or a proof (P10).
 //
 // It guesses of one atom after the other whether it is so, and lets follow what follows. Where that comes to a contradiction, it learns a clause of it, which is a line of a proof, and takes guesses back. In the end there is no atom left to guess of, or a contradiction without a guess.
+//
+// At each guess numbers are looked for that fit what is so, be they whole or not; whole ones, when no atom is left. Where these make symbols take equal numbers of which it was not asked whether they are equal, there are atoms to guess of again.
 package search
 
 import (
@@ -46,7 +48,7 @@ type search struct {
 	lessons int     // contradictions that were learned from
 	budget  int     // what may be spent; below 0: as much as it costs
 	spent   int
-	lost    bool // it cannot go on: no budget is enough
+	lost    bool // it cannot go on, and no budget is enough: it should not come to that, but were it so, the search would have no end
 }
 
 // Check looks with a budget; with one below 0 it spends as much as it takes, which comes to an end if the stack is bounded.
@@ -86,7 +88,7 @@ func (s *search) begin() {
 	}
 }
 
-// step goes on up to the next guess, lesson or verdict. A guess costs 1, and so do a lesson and a split of numbers.
+// step goes on up to the next guess, lesson or verdict, or to new atoms. Each of these costs 1, but a verdict; and whole numbers cost what package linear says.
 func (s *search) step() api.Verdict {
 	bad := s.settle()
 	if bad < 0 {
