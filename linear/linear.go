@@ -9,6 +9,9 @@ import (
 // first is how much is spent at first on splits of columns, before values are looked for in another way: for where columns have no bound, splits may have no end.
 const first = 16
 
+// deepest is how many splits may lie within each other, unless columns are narrow: so that trees do not grow too long.
+const deepest = 128
+
 // Outcome is what was found out: values of the columns, a tree, or neither, if that would cost too much.
 type Outcome struct {
 	Found  bool
@@ -25,6 +28,7 @@ type solving struct {
 	forms   []form
 	most    int // how much may be spent; below 0: as much as it takes
 	until   int // how much may be spent before it is tried in another way; below 0: as much as it takes
+	depth   int // how many splits lie within each other at hand
 	out     Outcome
 }
 
@@ -60,6 +64,7 @@ func (p *solving) try(t *tableau, narrow bool) {
 			p.until = p.out.Spent + more
 		}
 		p.out.nodes = nil
+		p.depth = 0
 		p.out.Closed = p.split(t)
 		if !p.isOver() {
 			return
@@ -96,9 +101,9 @@ func isNearer(s sums.Sum, rounded sums.Sum) bool {
 // isPoor tells whether more was spent than there was to spend.
 func (p *solving) isPoor() bool { return p.most >= 0 && p.out.Spent > p.most }
 
-// isOver tells whether more was spent than there was to spend before it is tried in another way.
+// isOver tells whether more was spent than there was to spend before it is tried in another way, or splits lie too deep.
 func (p *solving) isOver() bool {
-	return p.isPoor() || p.until >= 0 && p.out.Spent > p.until
+	return p.isPoor() || p.until >= 0 && (p.out.Spent > p.until || p.depth > deepest)
 }
 
 // close tells whether there are no whole values for the forms of a tableau; the tree grows by why.
@@ -124,6 +129,7 @@ func (p *solving) split(t *tableau) bool {
 		return false
 	}
 	p.out.Spent++
+	p.depth++
 	if p.isOver() {
 		return false
 	}
@@ -134,7 +140,11 @@ func (p *solving) split(t *tableau) bool {
 	}
 	above := whole.Add(bound, whole.From(1))
 	upper := t.with(unknown, whole.From(-1), above)
-	return p.close(&upper)
+	closed := p.close(&upper)
+	if closed {
+		p.depth--
+	}
+	return closed
 }
 
 // broken tells the first unknown whose value is not whole, and the whole number below it; -1, if there is none. The values are kept.
