@@ -12,28 +12,31 @@ type pair struct {
 	other int
 }
 
-// combine takes in, of each two terms of one symbol whose arguments have the same values though they themselves have not, that they are equal where their arguments are. It tells whether that names atoms which were not named yet: then the search goes on with these.
+// combine takes in, of each two terms of one symbol whose arguments have the same values though they themselves have not, that they are equal where their arguments are. It tells whether it asks something by that which was not asked yet: then the search goes on with that.
 func (s *search) combine(r *reading) bool {
 	pairs := r.torn()
-	before := len(s.things)
+	if len(pairs) == 0 {
+		return false
+	}
+	before := len(s.asked)
 	// What is always so is taken in without a guess: else it would be forgotten when guesses are taken back.
 	s.takeBack(0)
 	for _, p := range pairs {
 		s.join(p.one, p.other)
 	}
 	s.order()
-	return len(s.things) > before
+	return len(s.asked) > before
 }
 
-// torn tells all pairs of terms that are torn.
+// torn tells all pairs of terms that count and are torn.
 func (r *reading) torn() []pair {
 	var list []pair
 	for i, t := range r.s.st.Terms {
-		if t.Op != stack.Apply || len(t.Args) == 0 {
+		if t.Op != stack.Apply || len(t.Args) == 0 || !r.s.isCounting(i) {
 			continue
 		}
 		for j := 0; j < i; j++ {
-			if r.isTorn(i, j) {
+			if r.s.isCounting(j) && r.isTorn(i, j) {
 				list = append(list, pair{one: i, other: j})
 			}
 		}
@@ -75,12 +78,12 @@ func (s *search) join(i int, j int) {
 		a := t.Arg(k)
 		b := other.Arg(k)
 		if a != b {
-			equal := s.is(atoms.Equality(a, b))
+			equal := s.ask(a, b)
 			apart = append(apart, atoms.Opposite(equal))
 		}
 	}
 	if t.Sort != api.Bool {
-		equal := s.is(atoms.Equality(i, j))
+		equal := s.ask(i, j)
 		s.sayWhere(apart, []int{equal})
 		return
 	}
@@ -88,6 +91,15 @@ func (s *search) join(i int, j int) {
 	two := s.is(atoms.Truth(j))
 	s.sayWhere(apart, []int{one, atoms.Opposite(two)})
 	s.sayWhere(apart, []int{atoms.Opposite(one), two})
+}
+
+// ask is the literal that two terms are equal, which counts from now on.
+func (s *search) ask(a int, b int) int {
+	equal := s.is(atoms.Equality(a, b))
+	if !has(s.asked, equal/2) {
+		s.asked = append(s.asked, equal/2)
+	}
+	return equal
 }
 
 // sayWhere takes in a line U of two lists of literals.

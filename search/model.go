@@ -16,11 +16,11 @@ type reading struct {
 	entries  []api.Entry
 }
 
-// read reads a model: a value of each symbol without arguments, and of each other one for the arguments that are listed.
+// read reads a model: a value of each symbol without arguments, and of each other one for the arguments in terms that count.
 func (s *search) read() reading {
 	r := reading{s: s, classes: s.classes(), elements: make([]int, len(s.st.Terms))}
 	for number, t := range s.st.Terms {
-		if t.Op == stack.Apply {
+		if t.Op == stack.Apply && s.isCounting(number) {
 			r.enter(number, t)
 		}
 	}
@@ -30,6 +30,11 @@ func (s *search) read() reading {
 		}
 	}
 	return r
+}
+
+// isCounting tells whether a term counts.
+func (s *search) isCounting(number int) bool {
+	return number >= 0 && number < len(s.counts) && s.counts[number]
 }
 
 // enter takes in the value of a term of a symbol.

@@ -44,6 +44,8 @@ type search struct {
 	guesses []int   // how long the trail was at each guess
 	done    int     // of so many of the trail it was looked at what follows
 	wrong   int     // a line that contradicts what is so without a guess; -1, as long as there is none
+	counts  []bool  // by term: what is asserted hangs on it
+	asked   []int   // things that count whatever is told: whether numbers are equal that symbols take
 	ordered int     // of so many things it was taken in how their numbers hang together
 	lessons int     // contradictions that were learned from
 	budget  int     // what may be spent; below 0: as much as it costs
@@ -125,8 +127,12 @@ func (s *search) find() api.Verdict {
 		return api.Sat
 	}
 	s.spent++
-	some := s.combine(&r)
-	s.lost = !some
+	if s.combine(&r) {
+		return api.None
+	}
+	open := s.rest()
+	s.lost = open < 0
+	s.guess(open)
 	return api.None
 }
 
@@ -146,18 +152,14 @@ func (s *search) settle() int {
 	return s.wrong
 }
 
-// pick is a thing that is not told, of those the one with the most weight; -1, if all are told.
-func (s *search) pick() int {
-	best := -1
+// rest is a thing that is not told, be it one that counts or not; -1, if all are told.
+func (s *search) rest() int {
 	for i := range s.things {
-		if s.things[i].told {
-			continue
-		}
-		if best < 0 || s.things[i].weight > s.things[best].weight {
-			best = i
+		if !s.things[i].told {
+			return i
 		}
 	}
-	return best
+	return -1
 }
 
 // guess lets a thing be as is likely.
