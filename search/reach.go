@@ -82,12 +82,15 @@ func (r *reach) visitChosen(t stack.Term) {
 func (r *reach) visitBool(t stack.Term, so bool) {
 	switch t.Op {
 	case stack.And:
-		r.visitEach(t, !so, r.s.arguments(t), true)
+		args := r.s.arguments(t)
+		r.visitEach(t, !so, opposites(args))
 	case stack.Or:
-		r.visitEach(t, so, r.s.arguments(t), false)
+		args := r.s.arguments(t)
+		r.visitEach(t, so, args)
 	case stack.Implies:
-		first := atoms.Opposite(r.s.argument(t, 0))
-		r.visitEach(t, so, []int{first, r.s.argument(t, 1)}, false)
+		first := r.s.argument(t, 0)
+		second := r.s.argument(t, 1)
+		r.visitEach(t, so, []int{atoms.Opposite(first), second})
 	case stack.Ite:
 		r.visitChosen(t)
 	case stack.Equal, stack.Distinct:
@@ -98,14 +101,10 @@ func (r *reach) visitBool(t stack.Term, so bool) {
 	}
 }
 
-// visitEach takes in that the arguments of a term count, to which literals belong; if one is enough, and one is so (or, turned, is not), that one alone.
-func (r *reach) visitEach(t stack.Term, one bool, literals []int, turned bool) {
+// visitEach takes in that the arguments of a term count, to which literals belong; if one is enough, and one is so, that one alone.
+func (r *reach) visitEach(t stack.Term, one bool, literals []int) {
 	for i, code := range literals {
-		enough := r.s.isSo(code)
-		if turned {
-			enough = r.s.isOut(code)
-		}
-		if one && enough {
+		if one && r.s.isSo(code) {
 			r.visit(t.Arg(i))
 			return
 		}
@@ -143,6 +142,7 @@ func (r *reach) wantEqual(a int, b int) {
 	equal := r.s.is(atoms.Equality(a, b))
 	told := r.want(equal)
 	if told && r.s.st.Term(a).Sort == api.Int {
-		r.want(r.s.is(atoms.AtMost(a, b)))
+		less := r.s.is(atoms.AtMost(a, b))
+		r.want(less)
 	}
 }
