@@ -32,10 +32,18 @@ func (r *reach) want(code int) bool {
 	if r.s.thing(code).told {
 		return true
 	}
-	if r.best < 0 || r.s.thing(code).weight > r.s.things[r.best].weight {
-		r.best = code / 2
+	i := code / 2
+	if r.best < 0 || r.isAhead(i, r.best) {
+		r.best = i
 	}
 	return false
+}
+
+// isAhead tells whether a thing has more weight than another, or as much and was named ahead of it.
+func (r *reach) isAhead(i int, j int) bool {
+	one := r.s.things[i].weight
+	other := r.s.things[j].weight
+	return one > other || one == other && i < j
 }
 
 // visit takes in that a term counts.
@@ -49,7 +57,10 @@ func (r *reach) visit(number int) {
 		is := r.s.is(atoms.Truth(number))
 		if r.want(is) {
 			r.visitBool(t, r.s.isSo(is))
+			return
 		}
+		// As long as it is not told whether it is true, it may hang on all of them.
+		r.visitAll(t)
 		return
 	}
 	if t.Op == stack.Ite {
