@@ -96,19 +96,6 @@ func (p *facing) all() []hold {
 // isPoor tells whether more was spent than there was to spend.
 func (p *facing) isPoor() bool { return p.spent > p.most }
 
-// tableau is a tableau of forms that are held.
-func (p *facing) tableau(held []hold) tableau {
-	var list []form
-	for _, h := range held {
-		f := p.list[h.place]
-		if h.opposite {
-			f = f.opposite()
-		}
-		list = append(list, f)
-	}
-	return newTableau(p.columns, list)
-}
-
 // mixOf tells multiples of forms that are held, some perhaps more than once, as a mix.
 func (p *facing) mixOf(held []hold, times []whole.Number) mix {
 	m := p.nothing()

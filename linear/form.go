@@ -30,6 +30,13 @@ func timesOf(s sums.Sum, term int) whole.Number {
 	return whole.Number{}
 }
 
+// minus is the form of one of so many columns less a number.
+func minus(columns int, column int, number whole.Number) form {
+	f := form{times: make([]whole.Number, columns), number: whole.Negate(number)}
+	put(f.times, column, whole.From(1))
+	return f
+}
+
 // opposite is 0 less a form.
 func (f form) opposite() form {
 	return form{times: negated(f.times), number: whole.Negate(f.number)}

@@ -2,21 +2,24 @@ package linear
 
 import "reason/whole"
 
-// close tells whether there are no whole values, where forms are held and the directions ahead of a level have their values, with a mix that comes to a number above 0. If there are some, it keeps them; else too much was spent.
-func (p *facing) close(level int, held []hold) (mix, bool) {
+// close tells whether there are no whole values, where forms are held, which are those of a tableau, and the directions ahead of a level have their values. If there are none, it tells a mix that comes to a number above 0; if there are some, it keeps them; else too much was spent.
+func (p *facing) close(level int, held []hold, t *tableau) (mix, bool) {
 	top := -1 // the last cut that says how great the direction can be
 	for !p.isPoor() {
 		now := heldWith(held, top)
-		t := p.tableau(now)
-		r := t.settle()
+		n := t.copied()
+		if top >= 0 {
+			n.add(p.list[top])
+		}
+		r := n.settle()
 		if r >= 0 {
-			return p.mixOf(now, t.multiples(r)), true
+			return p.mixOf(now, n.multiples(r)), true
 		}
 		if level >= len(p.basis.directions) {
 			p.find()
 			return mix{}, false
 		}
-		m, closed, again := p.face(level, held, now, &t)
+		m, closed, again := p.face(level, now, &n)
 		if again < 0 {
 			return m, closed
 		}
@@ -36,7 +39,7 @@ func heldWith(held []hold, place int) []hold {
 }
 
 // face looks at the face where the direction of a level has its greatest value. Where that is closed and the direction can be less, it tells the place of a cut that says that it is less; else -1, and what close tells.
-func (p *facing) face(level int, held []hold, now []hold, t *tableau) (mix, bool, int) {
+func (p *facing) face(level int, now []hold, t *tableau) (mix, bool, int) {
 	p.spent++
 	direction := p.basis.directions[level]
 	most := t.raise(direction)
@@ -45,14 +48,17 @@ func (p *facing) face(level int, held []hold, now []hold, t *tableau) (mix, bool
 	p.at[level] = greatest
 	order := whole.Sign(whole.Add(greatest, least.down()))
 	above := p.bound(now, most)
-	inner := heldWith(held, above)
+	inner := heldWith(now, above)
+	t.add(p.list[above])
 	if order > 0 {
 		inner = append(inner, hold{place: above, opposite: true})
+		t.add(p.list[above].opposite())
 	} else {
 		below := p.bound(now, least)
 		inner = append(inner, hold{place: below})
+		t.add(p.list[below])
 	}
-	m, closed := p.close(level+1, inner)
+	m, closed := p.close(level+1, inner, t)
 	divisor := at(m.opposites, above)
 	if !closed || order <= 0 || whole.Sign(divisor) == 0 {
 		return m, closed, -1

@@ -134,12 +134,12 @@ func (p *solving) split(t *tableau) bool {
 		return false
 	}
 	p.out.nodes = append(p.out.nodes, node{kind: isSplit, term: p.columns[unknown], bound: bound})
-	lower := t.with(unknown, whole.From(1), whole.Negate(bound))
+	lower := t.with(minus(len(p.columns), unknown, bound))
 	if !p.close(&lower) {
 		return false
 	}
-	above := whole.Add(bound, whole.From(1))
-	upper := t.with(unknown, whole.From(-1), above)
+	above := minus(len(p.columns), unknown, whole.Add(bound, whole.From(1)))
+	upper := t.with(above.opposite())
 	closed := p.close(&upper)
 	if closed {
 		p.depth--
@@ -177,7 +177,7 @@ func (p *solving) face(t *tableau, most int) {
 		return
 	}
 	f := newFacing(p.forms, t, most)
-	m, closed := f.close(0, f.all())
+	m, closed := f.close(0, f.all(), t)
 	p.out.Spent += f.spent
 	if f.isPoor() {
 		return

@@ -40,18 +40,24 @@ func (t *tableau) copied() tableau {
 	return made
 }
 
-// with is a tableau like this one with one form more: an unknown so many times, which is 1 or -1, and a number.
-func (t *tableau) with(unknown int, times whole.Number, number whole.Number) tableau {
+// with is a tableau like this one with one form more.
+func (t *tableau) with(f form) tableau {
 	made := t.copied()
-	r := t.rowOf(unknown)
-	rest := row{parts: r.parts, number: mixed(r.number, whole.Negate(times), number, whole.Negate(r.parts))}
-	for _, n := range r.times {
-		rest.times = append(rest.times, whole.Multiply(n, whole.Negate(times)))
-	}
-	made.told = append(made.told, t.unknowns+t.rests)
-	made.rows = append(made.rows, rest)
-	made.rests++
+	made.add(f)
 	return made
+}
+
+// add takes one form more in.
+func (t *tableau) add(f form) {
+	r := row{parts: whole.From(1), number: whole.Negate(f.number), times: make([]whole.Number, len(t.by))}
+	for unknown, often := range f.times {
+		if whole.Sign(often) != 0 {
+			r = r.plus(t.rowOf(unknown), whole.Negate(often))
+		}
+	}
+	t.told = append(t.told, t.unknowns+t.rests)
+	t.rows = append(t.rows, r)
+	t.rests++
 }
 
 // rowOf tells a number by those by which the rows tell.
