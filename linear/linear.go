@@ -6,8 +6,8 @@ import (
 	"reason/whole"
 )
 
-// first is how much is spent at first on splits of columns, before values are looked for in another way: for where columns have no bound, splits may have no end.
-const first = 16
+// atFirst is how much is spent at first on splits of columns, before values are looked for in another way: for where columns have no bound, splits may have no end.
+const atFirst = 16
 
 // deepest is how many splits may lie within each other, unless columns are narrow: so that trees do not grow too long.
 const deepest = 128
@@ -17,7 +17,7 @@ type Outcome struct {
 	Found  bool
 	Closed bool
 	Values []whole.Number // by column
-	Spent  int            // what it cost: 1 for a split, 1 or more for a cut
+	Spent  int            // what it cost: 1 for a split or a face, 1 or more for a cut
 	cut    []bool         // by sum that was given: it was rounded
 	nodes  []node         // a tree, in the order in which it is told
 }
@@ -55,9 +55,9 @@ func Solve(columns []int, list []sums.Sum, most int, narrow bool) Outcome {
 	return p.out
 }
 
-// try looks for whole values, where there are values that need not be whole: by splits, and if these are not narrow by turns in another way, each time with more to spend than the last.
+// try looks for whole values, where there are values that need not be whole: by splits, and if columns are not narrow, by turns in another way too, each time with more to spend than the last.
 func (p *solving) try(t *tableau, narrow bool) {
-	more := first
+	more := atFirst
 	for !p.out.Found && !p.out.Closed && !p.isPoor() {
 		// The other way has an end: so this comes to one, when there is enough to spend.
 		if !narrow {
@@ -93,9 +93,9 @@ func isNearer(s sums.Sum, rounded sums.Sum) bool {
 		return false
 	}
 	// How often the divisor goes into the parts is how often it would go into the number.
-	first := whole.Multiply(s.Parts[0].Times, rounded.Number)
-	second := whole.Multiply(rounded.Parts[0].Times, s.Number)
-	return whole.Compare(first, second) != 0
+	one := whole.Multiply(s.Parts[0].Times, rounded.Number)
+	other := whole.Multiply(rounded.Parts[0].Times, s.Number)
+	return whole.Compare(one, other) != 0
 }
 
 // isPoor tells whether more was spent than there was to spend.

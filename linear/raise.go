@@ -10,7 +10,7 @@ type heights struct {
 	by      []int          // the numbers by which top tells
 }
 
-// raise tells how far parts times unknowns, each so many times, can be raised in a settled tableau.
+// raise tells how far a direction, which is unknowns each so many times, can be raised in a settled tableau.
 func (t *tableau) raise(times []whole.Number) heights {
 	made := t.copied()
 	target := row{parts: whole.From(1), times: make([]whole.Number, len(t.by))}
